@@ -1,0 +1,1 @@
+"""Ringwalkers: who overtook whom on a round path."""

@@ -1,0 +1,25 @@
+"""The errors of parameters that several points show, raised for what they are not."""
+
+from ringwalkers.errors import BadNets, BadNumbers, BadStand, NoWalker
+from ringwalkers.kinds import is_dict_of, is_integer, is_number, is_walker
+from ringwalkers.places import is_standing
+
+
+def need_stand(names, stand):
+    if not is_standing(names, stand):
+        raise BadStand(stand)
+
+
+def need_walker(names, walker):
+    if not is_walker(names, walker):
+        raise NoWalker(walker)
+
+
+def need_nets(names, nets):
+    if not is_dict_of(names, nets, is_integer):
+        raise BadNets(nets)
+
+
+def need_numbers(names, numbers):
+    if not is_dict_of(names, numbers, is_number):
+        raise BadNumbers(numbers)

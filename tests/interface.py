@@ -1,0 +1,34 @@
+"""The interface as the document lists it, file by file, as far as it has landed."""
+
+FUNCTIONS = {
+    "paths": "is_stand first_stand right_ahead going_round overtaken net turned",
+    "runs": "run_end is_one_way blocks_end",
+    "tables": "table stand_of_table table_clash overtook overtaken_by in_all of_some with_one_more one_more_clash",
+    "madenumbers": "numbers_made numbers_suffered stand_of_made stand_of_suffered laps_off lists_fault",
+    "moreleft": "with_more made_run is_made_run numbers_behind",
+    "netnumbers": "nets_of stand_of_nets nets_clash",
+}
+
+ERRORS = {
+    "errors": """BadWalkers(index), BadPath(thing), BadStand(stand), NoWalker(walker), NotBehind(one, other),
+        BadRun(index), BadBlocks(index), BadTable(table), BadSome(index), BadName(name), BadNets(nets),
+        BadNumbers(numbers), BadLeft(left), BadOthers(others), BadTimes(times), BadMany(many), BadStep(step),
+        BadTotal(total), BadNumber(number), BadBounds(bounds), BadTeams(index), BadTotals(index), BadChooser(thing),
+        BadStands(index), NoCommon(ring), SameWalker(walker), BadMost(most), BadNoted(noted), BadIndex(index),
+        BadPart(part), BadNotes(notes)""",
+}
+
+
+def functions():
+    """All pairs (file, function)."""
+    return [(file, name) for file, names in FUNCTIONS.items() for name in names.split()]
+
+
+def errors():
+    """All triples (file, class, names of its parameters)."""
+    listed = []
+    for file, text in ERRORS.items():
+        for word in text.replace("\n", " ").split("),"):
+            name, parameters = word.strip().rstrip(")").split("(")
+            listed.append((file, name, [each.strip() for each in parameters.split(",") if each.strip()]))
+    return listed

@@ -1,0 +1,113 @@
+"""The tests' own way of counting: going overtaking by overtaking, and keeping count of who overtook whom.
+
+Nothing here asks the package.
+"""
+
+import itertools
+
+
+def names_of(many):
+    return ["a", "b", "c", "d", "e", "f", "g", "h"][:many]
+
+
+def many_names(many):
+    return ["w{}".format(index) for index in range(many)]
+
+
+def all_pairs(names):
+    return list(itertools.permutations(names, 2))
+
+
+def by_path(names, pairs):
+    """Pairs sorted by one, then by other, in the order of the names."""
+    return sorted(pairs, key=lambda pair: (names.index(pair[0]), names.index(pair[1])))
+
+
+def moves(places):
+    """All overtakings (one, other) that can be done."""
+    many = len(places)
+    return [(one, other) for one in places for other in places
+            if one != other and (places[one] + 1) % many == places[other] % many]
+
+
+def moved(places, one, other):
+    behind = dict(places)
+    behind[one] += 1
+    behind[other] -= 1
+    return behind
+
+
+def key(places):
+    return tuple(places.values())
+
+
+class Walked:
+    """A stand come to: its places, how often one overtook other (net) on the way, how many overtakings it took."""
+
+    def __init__(self, places, nets, distance, run):
+        self.places = places
+        self.nets = nets
+        self.distance = distance
+        self.run = run
+
+
+def begin_of(names, places):
+    return Walked(dict(places), {pair: 0 for pair in all_pairs(names)}, 0, [])
+
+
+def gone(walked, one, other):
+    nets = dict(walked.nets)
+    nets[one, other] += 1
+    nets[other, one] -= 1
+    return Walked(moved(walked.places, one, other), nets, walked.distance + 1, walked.run + [(one, other)])
+
+
+def explore(names, depth, places=None):
+    """All stands come to by so many overtakings or fewer, nearest first, as a dict by key.
+
+    Going on in all ways, each stand's nets must come out one and the same.
+    """
+    start = begin_of(names, {name: index for index, name in enumerate(names)} if places is None else places)
+    found = {key(start.places): start}
+    level = [start]
+    for _ in range(depth):
+        further = []
+        for walked in level:
+            for one, other in moves(walked.places):
+                behind = gone(walked, one, other)
+                known = found.get(key(behind.places))
+                if known is None:
+                    found[key(behind.places)] = behind
+                    further.append(behind)
+                elif known.nets != behind.nets:
+                    raise AssertionError("two runs to one stand have unlike nets")
+        level = further
+    return found
+
+
+SMALL = [(2, 6), (3, 6), (4, 4), (5, 3)]
+
+
+def small_paths():
+    """Small paths with all their near stands."""
+    return [(names_of(many), list(explore(names_of(many), depth).values())) for many, depth in SMALL]
+
+
+def made(walked, name):
+    return sum(number for pair, number in walked.nets.items() if pair[0] == name and number > 0)
+
+
+def suffered(walked, name):
+    return sum(number for pair, number in walked.nets.items() if pair[1] == name and number > 0)
+
+
+def total(walked):
+    return sum(number for number in walked.nets.values() if number > 0)
+
+
+def far_stand(names, laps):
+    """A stand far off: each one so many laps ahead, as laps tells, and the first one as many behind as this takes."""
+    many = len(names)
+    places = {name: index + many * laps[index] for index, name in enumerate(names)}
+    places[names[0]] -= many * sum(laps)
+    return places
