@@ -1,6 +1,6 @@
 """The errors of parameters that several points show, raised for what they are not."""
 
-from ringwalkers.errors import BadNets, BadNumbers, BadStand, NoWalker
+from ringwalkers.errors import BadNets, BadNumber, BadNumbers, BadStand, BadTimes, BadTotal, NoWalker
 from ringwalkers.kinds import is_dict_of, is_integer, is_number, is_walker
 from ringwalkers.places import is_standing
 
@@ -23,3 +23,18 @@ def need_nets(names, nets):
 def need_numbers(names, numbers):
     if not is_dict_of(names, numbers, is_number):
         raise BadNumbers(numbers)
+
+
+def need_times(times):
+    if not is_number(times):
+        raise BadTimes(times)
+
+
+def need_total(total):
+    if not is_number(total):
+        raise BadTotal(total)
+
+
+def need_number(number):
+    if not is_number(number):
+        raise BadNumber(number)

@@ -12,14 +12,14 @@ class Path:
     def __init__(self, walkers):
         if not is_list(walkers):
             raise BadWalkers(0)
-        names = []
+        met = {}
         for index, name in enumerate(walkers):
-            if not is_name(name) or name in names:
+            if not is_name(name) or name in met:
                 raise BadWalkers(index)
-            names.append(name)
-        if len(names) < 2:
-            raise BadWalkers(len(names))
-        self._names = tuple(names)
+            met[name] = True
+        if len(met) < 2:
+            raise BadWalkers(len(met))
+        self._names = tuple(met)
 
     def walkers(self):
         return list(self._names)

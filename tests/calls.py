@@ -1,7 +1,9 @@
 """Every function of the interface with right arguments, and what is refused of each parameter."""
 
 import ringwalkers.errors as errors
-from ringwalkers import madenumbers, moreleft, netnumbers, paths, runs, tables
+import ringwalkers.refusals as refusals
+from ringwalkers import againandagain, countbounds, counted, laps, madenumbers, moreleft, netnumbers, paths, runs
+from ringwalkers import shortestruns, steps, tables
 from ringwalkers.paths import Path
 
 ABC = Path(["a", "b", "c"])
@@ -61,10 +63,19 @@ class Wrong:
         self.is_right = is_right
 
 
+def is_small_number(thing):
+    return is_plain_number(thing) and thing <= 5
+
+
+def is_near_step(thing):
+    return is_list(thing) and list(thing) == ["a", "b", 1] and thing[2] is not True
+
+
 PATH = Wrong(errors.BadPath, "thing", lambda thing: isinstance(thing, Path))
 STAND_ASKED = Wrong(errors.BadStand, "stand")
 WALKER = Wrong(errors.NoWalker, "walker", is_walker)
-NUMBERS = Wrong(errors.BadNumbers, "numbers")
+STEP = Wrong(errors.BadStep, "step", is_near_step)
+NUMBER = Wrong(errors.BadNumber, "number", is_plain_number)
 
 REFUSED = {
     "path": PATH,
@@ -79,9 +90,22 @@ REFUSED = {
     "some": Wrong(errors.BadSome, "index", is_some),
     "name": Wrong(errors.BadName, "name", is_new_name),
     "nets": Wrong(errors.BadNets, "nets"),
-    "numbers": NUMBERS,
+    "numbers": Wrong(errors.BadNumbers, "numbers"),
     "left": Wrong(errors.BadLeft, "left"),
     "others": Wrong(errors.BadOthers, "others"),
+    "times": Wrong(errors.BadTimes, "times", is_plain_number),
+    "later": STAND_ASKED,
+    "mid": STAND_ASKED,
+    "many": Wrong(errors.BadMany, "many", is_small_number),
+    "step": STEP,
+    "another": STEP,
+    "total": Wrong(errors.BadTotal, "total", is_plain_number),
+    "idle": NUMBER,
+    "number": NUMBER,
+    "bounds": Wrong(errors.BadBounds, "bounds"),
+    "teams": Wrong(errors.BadTeams, "index"),
+    "totals": Wrong(errors.BadTotals, "index"),
+    "laps": Wrong(refusals.BadLaps, "laps", is_plain_number),
 }
 
 
@@ -136,4 +160,40 @@ CALLS = [
     call(netnumbers.nets_of, NETS, stand=STAND),
     call(netnumbers.stand_of_nets, STAND, nets=NETS),
     call(netnumbers.nets_clash, ("together", "a", "b"), nets={"a": 1, "b": 0, "c": -1}),
+    call(againandagain.again, {"a": 3, "b": 4, "c": -4}, stand=STAND, times=2),
+    call(againandagain.and_then, {"a": 2, "b": 0, "c": 1},
+         stand={"a": 1, "b": 0, "c": 2}, later={"a": 0, "b": 2, "c": 1}),
+    call(againandagain.undone, {"a": 1, "b": -3, "c": 5}, stand=STAND),
+    call(againandagain.circles, [(["a", "b"], 3), (["c"], -3)], stand=STAND),
+    call(againandagain.times_back, 2, stand=STAND),
+    call(againandagain.for_ever, (3, 2), stand=STAND, one="a", other="c"),
+    call(againandagain.fastest, ["a", "b"], stand=STAND),
+    call(shortestruns.fewest, 5, stand=FIRST, later=STAND),
+    call(shortestruns.first_ones, [("a", "b"), ("b", "c")], stand=FIRST, later=STAND),
+    call(shortestruns.last_ones, [("a", "b"), ("b", "c")], stand=FIRST, later=STAND),
+    call(shortestruns.shortest_run, [([("a", "c"), ("a", "b")], 1000)],
+         stand=OTHER_STAND, later={"a": 2002, "b": -999, "c": -1000}),
+    call(shortestruns.is_shortest, True, stand=OTHER_STAND, later=STAND, thing=[(RUN, 1)]),
+    call(shortestruns.is_between, True, stand=FIRST, later=STAND, mid=OTHER_STAND),
+    call(shortestruns.stand_after, STAND, stand=FIRST, later=STAND, many=5),
+    call(steps.goes_ahead, True, stand=FIRST, later=STAND, step=("a", "c", 1), another=("a", "b", 2)),
+    call(steps.shown_behind, {"a": 0, "b": 2, "c": 1},
+         stand=FIRST, later=STAND, step=("a", "b", 1), another=("b", "c", 1)),
+    call(steps.count_runs, 3, stand=FIRST, later=STAND),
+    call(steps.runs_between, [[("a", "b"), ("a", "c"), ("a", "b"), ("a", "c"), ("b", "c")],
+                              [("a", "b"), ("a", "c"), ("b", "c"), ("a", "c"), ("a", "b")],
+                              [("b", "c"), ("a", "c"), ("a", "b"), ("a", "c"), ("a", "b")]], stand=FIRST, later=STAND),
+    call(counted.count_stands, 9, total=3),
+    call(counted.count_up_to, 31, total=4),
+    call(counted.count_idle, 3, total=3, idle=2),
+    call(counted.mean_idle, (4, 3), total=3),
+    call(counted.chance_made, (2, 9), total=3, number=1),
+    call(counted.chances_made, {0: (4, 9), 1: (2, 9), 2: (2, 9), 3: (1, 9)}, total=3),
+    call(countbounds.count_between, 7, bounds={"a": (0, 1), "b": (0, 1), "c": (0, 1)}),
+    call(countbounds.count_by_teams, 2, teams=[["a", "b"], ["c"]], totals=[2, 1]),
+    call(laps.is_within, True, stand=STAND, laps=2),
+    call(laps.most_laps, 2, stand=STAND),
+    call(laps.first_beyond, ("a", "b"), stand=STAND, laps=1),
+    call(laps.leads, {"a": 5, "b": 1, "c": 0}, stand=STAND),
+    call(laps.may_overtake, [("a", "b"), ("b", "c"), ("c", "a")], stand=FIRST, laps=1),
 ]

@@ -7,6 +7,12 @@ FUNCTIONS = {
     "madenumbers": "numbers_made numbers_suffered stand_of_made stand_of_suffered laps_off lists_fault",
     "moreleft": "with_more made_run is_made_run numbers_behind",
     "netnumbers": "nets_of stand_of_nets nets_clash",
+    "againandagain": "again and_then undone circles times_back for_ever fastest",
+    "shortestruns": "fewest first_ones last_ones shortest_run is_shortest is_between stand_after",
+    "steps": "goes_ahead shown_behind count_runs runs_between",
+    "counted": "count_stands count_up_to count_idle mean_idle chance_made chances_made",
+    "countbounds": "count_between count_by_teams",
+    "laps": "is_within most_laps first_beyond leads may_overtake",
 }
 
 ERRORS = {
@@ -16,6 +22,13 @@ ERRORS = {
         BadTotal(total), BadNumber(number), BadBounds(bounds), BadTeams(index), BadTotals(index), BadChooser(thing),
         BadStands(index), NoCommon(ring), SameWalker(walker), BadMost(most), BadNoted(noted), BadIndex(index),
         BadPart(part), BadNotes(notes)""",
+    "refusals": """BadPhoto(photo), BadLaps(laps), BadGains(gains), BadPhotos(index), BadWalk(walk), BadHour(hour),
+        BadLooks(index), BadLap(lap), BadPosts(posts), NoPaces(), BadSpans(spans), NoneWithin(), BadMade(made),
+        BadView(view), BadRow(index), BadLot(index), BadPairs(index), NotWithin(stand), CommonWalker(name),
+        BadSums(sums), BadNames(names), BadPieces(index), BadPrices(prices), BadOrder(order), BadWishes(index),
+        BadSteps(steps), BadMore(more), BadChoice(thing), BadAnswer(thing), BadTop(top), BadDeed(thing),
+        WasOvertaken(one, other), BadQuestion(thing), IsWatched(question), NotWatched(question),
+        WouldChange(question), BadGoal(goal), NoCount(number), BadDesk(thing), BadText(line)""",
 }
 
 

@@ -3,6 +3,7 @@
 Nothing here asks the package.
 """
 
+import functools
 import itertools
 
 
@@ -111,3 +112,54 @@ def far_stand(names, laps):
     places = {name: index + many * laps[index] for index, name in enumerate(names)}
     places[names[0]] -= many * sum(laps)
     return places
+
+
+def shortest_runs(names, places, goal):
+    """All shortest runs from places to a near goal, going overtaking by overtaking, as lists compare by the path."""
+    depth = 0
+    while key(goal) not in explore(names, depth, places):
+        depth += 1
+    left = {reached: walked.distance for reached, walked in explore(names, depth, goal).items()}
+    runs = [([], places)]
+    for steps in range(depth, 0, -1):
+        runs = [(run + [pair], moved(now, *pair)) for run, now in runs for pair in by_path(names, moves(now))
+                if left.get(key(moved(now, *pair))) == steps - 1]
+    return sorted([run for run, _ in runs], key=lambda run: [tuple(names.index(name) for name in pair) for pair in run])
+
+
+def stands_on(places, runs):
+    """All stands, by key, by which runs from these places go, ends included."""
+    met = {key(places): dict(places)}
+    for run in runs:
+        now = places
+        for pair in run:
+            now = moved(now, *pair)
+            met[key(now)] = now
+    return met
+
+
+def near_pairs():
+    """Small paths, each with pairs of near stands: who is walked to from the first stand, then who from there."""
+    for many, first_depth, depth in ((2, 2, 5), (3, 2, 5), (4, 1, 4), (5, 1, 2)):
+        names = names_of(many)
+        for begun in list(explore(names, first_depth).values()):
+            for walked in list(explore(names, depth, begun.places).values()):
+                yield names, begun, walked
+
+
+@functools.lru_cache(maxsize=None)
+def near_pairs_with_runs():
+    """The near pairs, each with all shortest runs between them."""
+    return [(names, begun, walked, shortest_runs(names, begun.places, walked.places))
+            for names, begun, walked in near_pairs()]
+
+
+def choose(many, few):
+    """In how many ways few of many are chosen, 0 for many below 0."""
+    if many < 0:
+        return 0
+    top, bottom = 1, 1
+    for index in range(few):
+        top *= many - index
+        bottom *= index + 1
+    return top // bottom

@@ -12,7 +12,9 @@ from tests.calls import ABC, CALLS, FIRST, OTHER_STAND, STAND
 from tests.told import ToldCase, is_same, shape
 
 FAR_STAND = {"a": -6 * 10 ** 18, "b": 1 + 3 * 10 ** 18, "c": 2 + 3 * 10 ** 18}
-STANDS = [FIRST, STAND, OTHER_STAND, {"a": 0, "b": 2, "c": 1}, FAR_STAND]
+STANDS = [FIRST, STAND, OTHER_STAND, {"a": 0, "b": 2, "c": 1}]
+# What goes through all runs is for near stands only.
+NEAR_ONLY = ["count_runs", "runs_between"]
 
 
 def swapped(thing):
@@ -111,10 +113,11 @@ class EveryCall(ToldCase):
                 if "stand" not in call.arguments:
                     continue
                 asked = []
-                for stand in STANDS:
+                stands = STANDS if call.name() in NEAR_ONLY else STANDS + [FAR_STAND]
+                for stand in stands:
                     arguments = dict(call.arguments, stand=stand, path=Path(["a", "b", "c"]))
                     asked.append(answer_of(call.function, arguments))
-                for stand, answer in list(zip(STANDS, asked)) * 2:
+                for stand, answer in list(zip(stands, asked)) * 2:
                     again = answer_of(call.function, dict(call.arguments, stand=stand))
                     self.assertTrue(is_same(again, answer), shape([again, answer]))
 

@@ -42,7 +42,8 @@ def functions_of(tree):
 def bound_in(node):
     """The names that parameters, assignments, loops and comprehensions bind within a node."""
     names = [each.arg for each in ast.walk(node) if isinstance(each, ast.arg)]
-    return names + [each.id for each in ast.walk(node) if isinstance(each, ast.Name) and isinstance(each.ctx, ast.Store)]
+    stored = [each for each in ast.walk(node) if isinstance(each, ast.Name) and isinstance(each.ctx, ast.Store)]
+    return names + [each.id for each in stored]
 
 
 def imported(tree):
@@ -88,8 +89,8 @@ class Imports(unittest.TestCase):
                 else:
                     package, file = module.split(".")
                     self.assertEqual(package, "ringwalkers")
-                    defined = [node.name for node in known[file].body if isinstance(node, (ast.FunctionDef, ast.ClassDef))]
-                    self.assertIn(wanted, defined, name)
+                    defined = [node for node in known[file].body if isinstance(node, (ast.FunctionDef, ast.ClassDef))]
+                    self.assertIn(wanted, [node.name for node in defined], name)
 
     def test_no_two_import_from_each_other(self):
         wanted = {name: [module.split(".")[1] for module, _ in imported(tree) if module not in LIBRARY]

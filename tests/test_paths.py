@@ -75,6 +75,11 @@ class Walkers(ToldCase):
         self.assertRefused(BadWalkers, {"index": 2}, Path, ["a", "b", "a", 5])
         self.assertRefused(BadWalkers, {"index": 3}, Path, ["a", "b", "c", "b"])
 
+    def test_long_lists(self):
+        names = slowly.many_names(20000)
+        self.assertRefused(BadWalkers, {"index": 20000}, Path, names + ["w7"])
+        self.assertRefused(BadWalkers, {"index": 20000}, Path, names + [None])
+
     def test_fewer_than_two(self):
         self.assertRefused(BadWalkers, {"index": 0}, Path, [])
         self.assertRefused(BadWalkers, {"index": 0}, Path, ())
