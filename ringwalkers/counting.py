@@ -21,3 +21,7 @@ def fraction(top, bottom):
     """The pair in lowest terms, for a bottom from 1 on."""
     common = gcd(top, bottom)
     return top // common, bottom // common
+
+
+def power(base, times):
+    return product_of([base] * times)

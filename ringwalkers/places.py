@@ -18,6 +18,15 @@ def in_order(names, values):
     return {name: values[name] for name in names}
 
 
+def key_of(names, places):
+    """The places alone, in the order of the names: a key, and what stands compare by."""
+    return tuple([places[name] for name in names])
+
+
+def places_of_key(names, key):
+    return dict(zip(names, key))
+
+
 def first_places(names):
     return {name: index for index, name in enumerate(names)}
 

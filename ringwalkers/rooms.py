@@ -1,14 +1,38 @@
-"""Stands in which nets do not go beyond bounds."""
+"""Stands whose nets are bounded above: most tells, of some pairs, the greatest net that is let."""
 
 from ringwalkers.places import first_places, nets_by, placed_by
+from ringwalkers.rows import least_distances, least_sums
+
+
+def rooms_of(names, most):
+    """How many laps, as places divided by n, the one of each pair stays below, above the other."""
+    first = first_places(names)
+    return {(one, other): most[one, other] + one_if_later(first, one, other) for one, other in most}
+
+
+def one_if_later(first, one, other):
+    """1 if one stands later in the order than other, else 0."""
+    return 1 if first[one] > first[other] else 0
+
+
+def greatest_nets(names, most):
+    """The greatest net of each pair in stands so bounded, if there are such; without a pair that has no bound."""
+    first = first_places(names)
+    sums = least_sums(names, rooms_of(names, most))
+    return {(one, other): sums[one, other] - one_if_later(first, one, other) for one, other in sums}
+
+
+def room_steps(names, most):
+    """By how much at most one may be farther than other, in n-ths of a lap.
+
+    So a ring of rooms, 1 lap together at least, is wide enough for going 1 less than each of its rooms.
+    """
+    rooms = rooms_of(names, most)
+    return {pair: rooms[pair] * len(names) - 1 for pair in rooms}
 
 
 def stand_below(names, most):
-    """A stand in which each net is at most what most tells of its pair, None if there is none.
-
-    Distances are told in n-ths of a lap, so that a ring of rooms, 1 lap together at least, is wide enough
-    for going 1 less than each of its rooms.
-    """
+    """A stand in which each net is at most what most tells of its pair, None if there is none."""
     distances = least_distances(names, room_steps(names, most))
     if distances is None:
         return None
@@ -16,28 +40,3 @@ def stand_below(names, most):
     # Finer by n again, so that no two who come to one point are together.
     fine = {name: distances[name] * many + index for index, name in enumerate(names)}
     return placed_by(names, nets_by(names, fine, many * many))
-
-
-def room_steps(names, most):
-    """By how much at most one may be farther than other, in n-ths of a lap."""
-    many = len(names)
-    first = first_places(names)
-    steps = {}
-    for one, other in most:
-        room = most[one, other] + (1 if first[one] > first[other] else 0)
-        steps[one, other] = room * many - 1
-    return steps
-
-
-def least_distances(names, steps):
-    """Distances of which none is above another one by more than the pair's step, None if there are none."""
-    distances = {name: 0 for name in names}
-    for _ in names:
-        changed = False
-        for one, other in steps:
-            if distances[other] + steps[one, other] < distances[one]:
-                distances[one] = distances[other] + steps[one, other]
-                changed = True
-        if not changed:
-            return distances
-    return None

@@ -4,9 +4,9 @@ from ringwalkers.checks import need_stand
 from ringwalkers.errors import BadStep
 from ringwalkers.kinds import is_integer, is_list_of, is_two_walkers
 from ringwalkers.paths import walkers_of
-from ringwalkers.places import change_places, in_order, nets_among
+from ringwalkers.places import change_places, in_order, key_of, nets_among
 from ringwalkers.rooms import stand_below
-from ringwalkers.towards import begin_with, left_between, left_in_all
+from ringwalkers.towards import begin_with, keys_behind, left_between, left_in_all
 
 
 def goes_ahead(path, stand, later, step, another):
@@ -53,27 +53,19 @@ def count_runs(path, stand, later):
     names = walkers_of(path)
     need_stand(names, stand)
     need_stand(names, later)
-    ways = {tuple([stand[name] for name in names]): 1}
+    ways = {key_of(names, stand): 1}
     for _ in range(left_in_all(left_between(names, stand, later))):
         ways = ways_behind(names, ways, later)
     return sum(list(ways.values()))
 
 
 def ways_behind(names, ways, later):
-    """In how many ways each stand is come to by one overtaking more; stands are told by the lists of their places."""
+    """In how many ways each stand, as a key, is come to by one overtaking more."""
     behind = {}
-    for placed, many in ways.items():
-        places = dict(zip(names, placed))
-        for one, other in begin_with(names, places, left_between(names, places, later)):
-            key = key_behind(names, places, one, other)
-            behind[key] = behind.get(key, 0) + many
+    for key, many in ways.items():
+        for next_key in keys_behind(names, key, later):
+            behind[next_key] = behind.get(next_key, 0) + many
     return behind
-
-
-def key_behind(names, places, one, other):
-    moved = dict(places)
-    change_places(moved, one, other)
-    return tuple([moved[name] for name in names])
 
 
 def runs_between(path, stand, later):

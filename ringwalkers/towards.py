@@ -1,6 +1,6 @@
 """What is left between two stands, and going on from the one to the other."""
 
-from ringwalkers.places import ahead_of, change_places, nets_among
+from ringwalkers.places import ahead_of, change_places, key_of, nets_among, places_of_key
 
 
 def left_between(names, places, goal):
@@ -37,3 +37,25 @@ def go_on(names, places, left):
         do_one(places, left, one, other)
         run.append((one, other))
     return run
+
+
+def keys_behind(names, key, goal):
+    """The stands, as keys, that one overtaking leads to from the stand with a key, on shortest runs to the goal."""
+    places = places_of_key(names, key)
+    behind = []
+    for one, other in begin_with(names, places, left_between(names, places, goal)):
+        moved = dict(places)
+        change_places(moved, one, other)
+        behind.append(key_of(names, moved))
+    return behind
+
+
+def stands_on_the_way(names, begin, goal):
+    """All stands by which shortest runs go, by how many overtakings it takes to them, then by their places."""
+    level = [key_of(names, begin)]
+    found = []
+    while level:
+        found = found + level
+        next_ones = {behind: True for key in level for behind in keys_behind(names, key, goal)}
+        level = sorted(next_ones)
+    return [places_of_key(names, key) for key in found]

@@ -2,8 +2,8 @@
 
 import ringwalkers.errors as errors
 import ringwalkers.refusals as refusals
-from ringwalkers import againandagain, countbounds, counted, laps, madenumbers, moreleft, netnumbers, paths, runs
-from ringwalkers import shortestruns, steps, tables
+from ringwalkers import againandagain, capped, commonrows, commons, countbounds, counted, laps, madenumbers, moreleft
+from ringwalkers import netnumbers, notecounts, notes, numbered, paths, runs, shortestruns, shownotes, steps, tables
 from ringwalkers.paths import Path
 
 ABC = Path(["a", "b", "c"])
@@ -15,6 +15,13 @@ TABLE = {("a", "b"): 2, ("a", "c"): 2, ("b", "a"): -2, ("b", "c"): 1, ("c", "a")
 MADE = {"a": 4, "b": 1, "c": 0}
 SUFFERED = {"a": 0, "b": 2, "c": 3}
 NETS = {"a": 4, "b": -1, "c": -3}
+# S, T and V of [9.7].
+STANDS = [{"a": 2, "b": 1, "c": 0}, {"a": 1, "b": 0, "c": 2}]
+STANDS_OF_A_RING = [{"a": 2, "b": 1, "c": 0}, {"a": -1, "b": 1, "c": 3}]
+# What is noted up to twice in STAND, and the second and third notes of [11.7].
+NOTES = {("a", "b"): 2, ("a", "c"): 2, ("b", "a"): 0, ("b", "c"): 1, ("c", "a"): 0, ("c", "b"): 0}
+ENDED_NOTES = {("a", "b"): 2, ("a", "c"): 1, ("b", "a"): 0, ("b", "c"): 0, ("c", "a"): 0, ("c", "b"): 1}
+FREE_NOTES = {("a", "b"): 2, ("a", "c"): 2, ("b", "a"): 0, ("b", "c"): 0, ("c", "a"): 0, ("c", "b"): 0}
 
 
 def is_plain_number(thing):
@@ -61,10 +68,20 @@ class Wrong:
         self.error = error
         self.field = field
         self.is_right = is_right
+        self.by_place = field == "index" and error is not errors.BadIndex
 
 
 def is_small_number(thing):
     return is_plain_number(thing) and thing <= 5
+
+
+def is_part(thing):
+    return isinstance(thing, dict) and len(thing) == 2 and all(
+        is_walker(name) and is_plain_number(number) for name, number in thing.items())
+
+
+def last_one(many):
+    return many - 1
 
 
 def is_near_step(thing):
@@ -106,7 +123,20 @@ REFUSED = {
     "teams": Wrong(errors.BadTeams, "index"),
     "totals": Wrong(errors.BadTotals, "index"),
     "laps": Wrong(refusals.BadLaps, "laps", is_plain_number),
+    "chooser": Wrong(errors.BadChooser, "thing", callable),
+    "stands": Wrong(errors.BadStands, "index"),
+    "most": Wrong(errors.BadMost, "most", lambda thing: is_plain_number(thing) and thing > 0),
+    "noted": Wrong(errors.BadNoted, "noted"),
+    "part": Wrong(errors.BadPart, "part", is_part),
+    "index": Wrong(errors.BadIndex, "index", lambda thing: is_plain_number(thing) and thing < 16),
+    "notes": Wrong(errors.BadNotes, "notes"),
 }
+# Where a function lets less of a parameter than others.
+SPECIAL = {
+    ("stand_at", "number"): Wrong(errors.BadNumber, "number", is_small_number),
+}
+# Errors that are due ahead of those of parameters that stand ahead.
+AHEAD = ["path", "most"]
 
 
 class Call:
@@ -116,10 +146,16 @@ class Call:
         self.function = function
         self.told = told
         self.arguments = arguments
-        self.refused = {name: REFUSED[name] for name in arguments}
+        self.refused = {name: SPECIAL.get((self.name(), name), REFUSED[name]) for name in arguments}
 
     def name(self):
         return self.function.__name__
+
+    def in_order(self):
+        """The parameters in the order in which their errors are due."""
+        if "notes" not in self.arguments:
+            return list(self.refused)
+        return AHEAD + [name for name in self.refused if name not in AHEAD]
 
 
 def call(function, told, **arguments):
@@ -191,6 +227,41 @@ CALLS = [
     call(counted.chances_made, {0: (4, 9), 1: (2, 9), 2: (2, 9), 3: (1, 9)}, total=3),
     call(countbounds.count_between, 7, bounds={"a": (0, 1), "b": (0, 1), "c": (0, 1)}),
     call(countbounds.count_by_teams, 2, teams=[["a", "b"], ["c"]], totals=[2, 1]),
+    call(numbered.stand_at, {"a": 2, "b": 0, "c": 1}, total=2, number=5),
+    call(numbered.stand_number, 5, stand={"a": 2, "b": 0, "c": 1}),
+    call(numbered.drawn_stand, {"a": 2, "b": 0, "c": 1}, total=2, chooser=last_one),
+    call(commons.is_earlier, True, stand=OTHER_STAND, later=STAND),
+    call(commons.last_common, {"a": 1, "b": 0, "c": 2}, stands=STANDS),
+    call(commons.first_common, {"a": 2, "b": 1, "c": 0}, stands=STANDS),
+    call(commons.common_ring, [("a", 0), ("c", 1)], stands=STANDS_OF_A_RING),
+    call(commons.is_common_ring, True, stands=STANDS_OF_A_RING, thing=[("a", 0), ("c", 1)]),
+    call(commons.to_common, [0, 2], stands=STANDS),
+    call(commons.earlier_ones, [{"a": 0, "b": 1, "c": 2}, {"a": 0, "b": 2, "c": 1}, {"a": 1, "b": 0, "c": 2},
+                                {"a": 1, "b": 2, "c": 0}, {"a": 2, "b": 0, "c": 1}, {"a": 2, "b": 1, "c": 0}],
+         stand=OTHER_STAND),
+    call(commonrows.holding_row, ["b", "c"], stands=STANDS, one="b", other="c"),
+    call(commonrows.forcing_row, ["a", "b"], stands=STANDS, one="a", other="b"),
+    call(commonrows.is_holding_row, True, stands=STANDS, one="b", other="c", thing=["b", "c"]),
+    call(commonrows.is_forcing_row, True, stands=STANDS, one="a", other="b", thing=["a", "b"]),
+    call(notes.notes, NOTES, stand=STAND, most=2),
+    call(notes.noted, {"a": 4, "b": 1, "c": 0}, stand=STAND, most=2),
+    call(notes.notes_of_noted, NOTES, noted={"a": 4, "b": 1, "c": 0}, most=2),
+    call(notes.noted_fault, (2, 3), noted={"a": 3, "b": 0, "c": 0}, most=1),
+    call(notes.most_lacking, 2, part={"b": 1, "c": 0}, most=1),
+    call(capped.least_stand, {"a": 2, "b": 1, "c": 0}, noted={"a": 2, "b": 1, "c": 0}, most=1),
+    call(capped.run_of_noted, [("a", "b")], noted={"a": 1, "b": 0, "c": 0}, most=1),
+    call(notecounts.count_notes, 49, most=2),
+    call(notecounts.count_noted, 6, most=1, number=3),
+    call(notecounts.noted_at, {"a": 0, "b": 0, "c": 1}, most=1, index=1),
+    call(notecounts.noted_index, 1, noted={"a": 0, "b": 0, "c": 1}, most=1),
+    call(shownotes.are_notes, True, thing=NOTES, most=2),
+    call(shownotes.notes_clash, None, notes=NOTES, most=2),
+    call(shownotes.last_stand, {"a": 4, "b": -3, "c": 2}, notes=ENDED_NOTES, most=2),
+    call(shownotes.free_lot, ["a"], notes=FREE_NOTES, most=2),
+    call(shownotes.groups, [["a"], ["b", "c"]], notes=FREE_NOTES, most=2),
+    call(shownotes.count_ended, 25, most=2),
+    call(shownotes.net_span, (2, 3), notes=ENDED_NOTES, most=2, one="a", other="b"),
+    call(shownotes.stands_showing, [{"a": 3, "b": -2, "c": 2}, {"a": 4, "b": -3, "c": 2}], notes=ENDED_NOTES, most=2),
     call(laps.is_within, True, stand=STAND, laps=2),
     call(laps.most_laps, 2, stand=STAND),
     call(laps.first_beyond, ("a", "b"), stand=STAND, laps=1),

@@ -12,7 +12,21 @@ FUNCTIONS = {
     "steps": "goes_ahead shown_behind count_runs runs_between",
     "counted": "count_stands count_up_to count_idle mean_idle chance_made chances_made",
     "countbounds": "count_between count_by_teams",
+    "numbered": "stand_at stand_number drawn_stand",
+    "commons": "is_earlier last_common first_common common_ring is_common_ring to_common earlier_ones",
+    "commonrows": "holding_row forcing_row is_holding_row is_forcing_row",
+    "notes": "notes noted notes_of_noted noted_fault most_lacking",
+    "capped": "least_stand run_of_noted",
+    "notecounts": "count_notes count_noted noted_at noted_index",
+    "shownotes": "are_notes notes_clash last_stand free_lot groups count_ended net_span stands_showing",
     "laps": "is_within most_laps first_beyond leads may_overtake",
+}
+
+METHODS = {
+    ("desks", "Desk", "path"): """path() stand() watched() do(deed) is_question(thing) answer(question) way_to(goal)
+        gone_beyond(goal) would(deed) free_overtakings() count() undo() again() deeds() at(number) copy() trial(work)
+        __eq__(other)""",
+    ("paths", "Path", "walkers"): "walkers() __eq__(other)",
 }
 
 ERRORS = {
@@ -35,6 +49,18 @@ ERRORS = {
 def functions():
     """All pairs (file, function)."""
     return [(file, name) for file, names in FUNCTIONS.items() for name in names.split()]
+
+
+def methods():
+    """All of (file, class, its parameters, a dict from its methods to the names of their parameters)."""
+    listed = []
+    for (file, name, parameters), text in METHODS.items():
+        told = {}
+        for word in text.split():
+            method, rest = word.rstrip(")").split("(")
+            told[method] = rest.split(",") if rest else []
+        listed.append((file, name, parameters.split(","), told))
+    return listed
 
 
 def errors():

@@ -154,6 +154,57 @@ def near_pairs_with_runs():
             for names, begun, walked in near_pairs()]
 
 
+def net_by(names, places, one, other):
+    """The net of far stands, by how many laps it takes to come from one's lead over other at first to that now."""
+    first = names.index(one) - names.index(other)
+    many = len(names)
+    lead = places[one] - places[other]
+    # Each time that one passes a multiple of n above other one overtakes other.
+    return -((0 - lead) // many) + ((0 - first) // many)
+
+
+def earlier_keys(near):
+    """The keys of all stands earlier than each near one, by going back overtaking by overtaking."""
+    known = {}
+    for reached in sorted(near, key=lambda each: near[each].distance):
+        walked = near[reached]
+        earlier = {reached}
+        for one, other in moves(walked.places):
+            back = near.get(key(moved(walked.places, one, other)))
+            if back is not None and back.distance == walked.distance - 1:
+                earlier |= known[key(back.places)]
+        known[reached] = earlier
+    return known
+
+
+def noted_pairs(walked, most):
+    """What each noted of each other one, as a tuple, pairs by the order of the path."""
+    return tuple(min(max(number, 0), most) for number in walked.nets.values())
+
+
+@functools.lru_cache(maxsize=None)
+def stands_by_notes(many, most, depth):
+    """All near stands, in order of how many overtakings they take, by their notes."""
+    by_notes = {}
+    for walked in explore(names_of(many), depth).values():
+        by_notes.setdefault(noted_pairs(walked, most), []).append(walked)
+    return by_notes
+
+
+# Walkers, most, a distance up to which all notes are shown, and one up to which all last stands are.
+NOTED = [(2, 1, 3, 0), (2, 2, 4, 1), (2, 3, 6, 2), (3, 1, 8, 1), (3, 2, 12, 5), (3, 3, 16, 9), (4, 1, 14, 4)]
+
+
+def notes_of(names, pairs_noted):
+    """Notes as a dict, from the numbers of all pairs by the order of the path."""
+    return dict(zip(all_pairs(names), pairs_noted))
+
+
+def sums_of(names, notes):
+    """What each noted of all others together."""
+    return {name: sum(number for (one, _), number in notes.items() if one == name) for name in names}
+
+
 def choose(many, few):
     """In how many ways few of many are chosen, 0 for many below 0."""
     if many < 0:

@@ -14,7 +14,7 @@ from tests.told import ToldCase, is_same, shape
 FAR_STAND = {"a": -6 * 10 ** 18, "b": 1 + 3 * 10 ** 18, "c": 2 + 3 * 10 ** 18}
 STANDS = [FIRST, STAND, OTHER_STAND, {"a": 0, "b": 2, "c": 1}]
 # What goes through all runs is for near stands only.
-NEAR_ONLY = ["count_runs", "runs_between"]
+NEAR_ONLY = ["count_runs", "runs_between", "earlier_ones"]
 
 
 def swapped(thing):
@@ -149,7 +149,7 @@ class EveryRefusal(ToldCase):
     def refuse(self, call, name, wrong, thing):
         arguments = dict(call.arguments)
         arguments[name] = thing
-        if wrong.field != "index":
+        if not wrong.by_place:
             self.assertRefused(wrong.error, {wrong.field: thing}, call.function, **arguments)
         elif not isinstance(thing, (list, tuple)):
             self.assertRefused(wrong.error, {"index": 0}, call.function, **arguments)
@@ -160,14 +160,14 @@ class EveryRefusal(ToldCase):
 
     def test_the_first_parameter_goes_first(self):
         for call in CALLS:
-            refused = [name for name in call.refused if call.refused[name].error is not None]
+            refused = [name for name in call.in_order() if call.refused[name].error is not None]
             for former, latter in itertools.combinations(refused, 2):
                 with self.subTest(function=call.name(), former=former, latter=latter):
                     arguments = dict(call.arguments)
                     arguments[former] = None
                     arguments[latter] = some_other_object
                     wrong = call.refused[former]
-                    kept = 0 if wrong.field == "index" else None
+                    kept = 0 if wrong.by_place else None
                     self.assertRefused(wrong.error, {wrong.field: kept}, call.function, **arguments)
 
     def test_any_object_is_asked_about(self):

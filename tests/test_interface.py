@@ -5,11 +5,10 @@ import inspect
 import unittest
 
 from ringwalkers.errors import WalkError
-from ringwalkers.paths import Path
 
 from tests.anything import ANYTHING
 from tests.calls import CALLS
-from tests.interface import errors, functions
+from tests.interface import errors, functions, methods
 from tests.told import ToldCase
 
 
@@ -29,11 +28,15 @@ class Functions(unittest.TestCase):
         called = [(call.function.__module__, call.name()) for call in CALLS]
         self.assertEqual(called, [("ringwalkers." + file, name) for file, name in functions()])
 
-    def test_the_class_of_paths(self):
-        self.assertEqual(Path.__module__, "ringwalkers.paths")
-        self.assertIn("walkers", vars(Path))
-        self.assertIn("__eq__", vars(Path))
-        self.assertEqual(list(inspect.signature(Path).parameters), ["walkers"])
+    def test_the_classes(self):
+        for file, name, parameters, told in methods():
+            listed = getattr(module(file), name)
+            self.assertEqual(listed.__module__, "ringwalkers." + file)
+            self.assertEqual(list(inspect.signature(listed).parameters), parameters)
+            for method, rest in told.items():
+                with self.subTest(name=name, method=method):
+                    self.assertIn(method, vars(listed))
+                    self.assertEqual(list(inspect.signature(vars(listed)[method]).parameters), ["self"] + rest)
 
 
 class Errors(ToldCase):

@@ -23,7 +23,7 @@ BARRED = """register mro elements open input law version_info with_traceback add
     methodcaller os quit setattr type vars sys""".split()
 AT_ONCE = ["zip", "enumerate", "reversed", "range"]
 TAKERS = ["list", "tuple", "dict", "sorted", "sum", "any", "all", "enumerate", "zip", "min", "max"]
-NO_NODES = (ast.GeneratorExp, ast.Global, ast.AsyncFunctionDef, ast.Await, ast.Yield, ast.YieldFrom, ast.Div, ast.Try,
+NO_NODES = (ast.GeneratorExp, ast.Global, ast.AsyncFunctionDef, ast.Await, ast.Yield, ast.YieldFrom, ast.Div,
             ast.With, ast.Set, ast.Delete, ast.Starred, ast.NamedExpr, ast.Nonlocal, ast.JoinedStr, ast.Match)
 
 
@@ -138,6 +138,16 @@ class Statements(unittest.TestCase):
                         if isinstance(sign, (ast.Is, ast.IsNot)):
                             self.assertIsInstance(side, ast.Constant)
 
+    def test_nothing_is_caught(self):
+        for name, tree in trees().items():
+            for node in ast.walk(tree):
+                if isinstance(node, ast.Try):
+                    self.assertEqual(node.handlers + node.orelse, [], name)
+                    for each in node.finalbody:
+                        self.assertIsInstance(each, ast.Assign)
+                        self.assertIsInstance(each.targets[0], ast.Attribute)
+                        self.assertIsInstance(each.value, ast.Name)
+
     def test_powers(self):
         for tree in trees().values():
             for node in ast.walk(tree):
@@ -185,8 +195,10 @@ class Names(unittest.TestCase):
         for name, tree in trees().items():
             for each in bound_in(tree) + [node.name for node in functions_of(tree)]:
                 self.assertTrue(each.isascii())
-                if each.startswith("_") and each != "_":
+                if each.startswith("__"):
                     self.assertIn(each, ("__init__", "__eq__"), name)
+                elif each.startswith("_") and each != "_":
+                    self.assertTrue(each[1].isalpha(), name)
 
     def test_nothing_is_called_as_an_import_or_a_class(self):
         for name, tree in trees().items():

@@ -50,3 +50,10 @@ class ToldCase(unittest.TestCase):
                     self.assertIs(kept, thing, field)
         else:
             self.fail("{} was not raised, but {} told".format(error.__name__, shape(answer)))
+
+    def assertRefusedTelling(self, error, fields, work, *args, **named):
+        """The call raises an error of just this class, with things like these under the names of fields."""
+        with self.assertRaises(error) as caught:
+            work(*args, **named)
+        self.assertIs(type(caught.exception), error)
+        self.assertTold(vars(caught.exception), fields)

@@ -1,0 +1,66 @@
+"""Rows that show how far some stands hold back, and force on, their common ones."""
+
+from ringwalkers.checks import need_walker
+from ringwalkers.commonbounds import each_nets, forced_most, held_most, need_no_ring, need_stands
+from ringwalkers.errors import SameWalker
+from ringwalkers.kinds import is_list, is_walker
+from ringwalkers.paths import walkers_of
+from ringwalkers.rooms import rooms_of
+from ringwalkers.rows import least_row, sum_of_row
+
+
+def holding_row(path, stands, one, other):
+    """A row from one to other whose LEFT together is the least."""
+    names = walkers_of(path)
+    need_ends(names, stands, one, other)
+    return least_row(names, left_of(names, stands), one, other)
+
+
+def is_holding_row(path, stands, one, other, thing):
+    """Whether any object is such a row."""
+    names = walkers_of(path)
+    need_ends(names, stands, one, other)
+    return is_least_row(names, left_of(names, stands), one, other, thing)
+
+
+def forcing_row(path, stands, one, other):
+    """A row from one to other whose DONE together is the greatest, None if none leads there."""
+    names = walkers_of(path)
+    need_ends(names, stands, one, other)
+    need_no_ring(names, each_nets(names, stands))
+    return least_row(names, less_done(names, stands), one, other)
+
+
+def is_forcing_row(path, stands, one, other, thing):
+    """Whether any object is such a row."""
+    names = walkers_of(path)
+    need_ends(names, stands, one, other)
+    need_no_ring(names, each_nets(names, stands))
+    return is_least_row(names, less_done(names, stands), one, other, thing)
+
+
+def need_ends(names, stands, one, other):
+    need_stands(names, stands)
+    need_walker(names, one)
+    need_walker(names, other)
+    if one == other:
+        raise SameWalker(one)
+
+
+def left_of(names, stands):
+    return rooms_of(names, held_most(each_nets(names, stands)))
+
+
+def less_done(names, stands):
+    """0 less DONE of each pair that has it: so what is greatest together is the least here."""
+    rooms = rooms_of(names, forced_most(each_nets(names, stands)))
+    return {(one, other): rooms[other, one] for other, one in rooms}
+
+
+def is_least_row(names, steps, one, other, thing):
+    if not is_list(thing) or not all([is_walker(names, each) for each in thing]):
+        return False
+    if len({each for each in thing}) < len(thing) or len(thing) < 2 or thing[0] != one or thing[-1] != other:
+        return False
+    added = sum_of_row(steps, thing)
+    return added is not None and added == sum_of_row(steps, least_row(names, steps, one, other))
