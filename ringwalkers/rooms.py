@@ -40,3 +40,19 @@ def stand_below(names, most):
     # Finer by n again, so that no two who come to one point are together.
     fine = {name: distances[name] * many + index for index, name in enumerate(names)}
     return placed_by(names, nets_by(names, fine, many * many))
+
+
+def stand_right_behind(names, most, one, other):
+    """A stand, if there is such, in which one is right behind other, their net the most, and each other one at most so.
+
+    As if both were at one point, one just behind: the next overtaking of one leads beyond the most.
+    """
+    steps = room_steps(names, most)
+    steps[one, other] = (most[one, other] + one_if_later(first_places(names), one, other)) * len(names)
+    steps[other, one] = -steps[one, other]
+    distances = least_distances(names, steps)
+    many = len(names)
+    # Finer by 2 * n: no two who come to one point are together, and there is room just behind other.
+    fine = {name: 2 * (distances[name] * many + index) for index, name in enumerate(names)}
+    fine[one] = fine[other] + 2 * steps[one, other] * many - 1
+    return placed_by(names, nets_by(names, fine, 2 * many * many))

@@ -2,8 +2,9 @@
 
 import ringwalkers.errors as errors
 import ringwalkers.refusals as refusals
-from ringwalkers import againandagain, capped, commonrows, commons, countbounds, counted, laps, madenumbers, moreleft
-from ringwalkers import netnumbers, notecounts, notes, numbered, paths, runs, shortestruns, shownotes, steps, tables
+from ringwalkers import againandagain, capped, commonrows, commons, countbounds, counted, fewbetween, laps
+from ringwalkers import madenumbers, moreleft, netnumbers, netspans, notecounts, noterows, notes, numbered, pacelooks
+from ringwalkers import paths, photos, runs, shortestruns, shownotes, steps, tables, walks, withincounts
 from ringwalkers.paths import Path
 
 ABC = Path(["a", "b", "c"])
@@ -22,6 +23,17 @@ STANDS_OF_A_RING = [{"a": 2, "b": 1, "c": 0}, {"a": -1, "b": 1, "c": 3}]
 NOTES = {("a", "b"): 2, ("a", "c"): 2, ("b", "a"): 0, ("b", "c"): 1, ("c", "a"): 0, ("c", "b"): 0}
 ENDED_NOTES = {("a", "b"): 2, ("a", "c"): 1, ("b", "a"): 0, ("b", "c"): 0, ("c", "a"): 0, ("c", "b"): 1}
 FREE_NOTES = {("a", "b"): 2, ("a", "c"): 2, ("b", "a"): 0, ("b", "c"): 0, ("c", "a"): 0, ("c", "b"): 0}
+NEXT_NOTES = {("a", "b"): 2, ("a", "c"): 2, ("b", "a"): 0, ("b", "c"): 0, ("c", "a"): 0, ("c", "b"): 1}
+PHOTO = ["a", "b", "c"]
+LATER_PHOTO = ["c", "b", "a"]
+POSTS = {"a": 0, "b": 4, "c": 7}
+WALK = (10, POSTS, {"a": 3, "b": 1, "c": 1})
+LOOKS = [(3, {"a": 1, "b": 0, "c": 2})]
+# No paces fit these: a overtook b by the first hour, and has not by the second.
+LOOKS_OF_A_RING = [(1, {"a": 1, "b": 0, "c": 2}), (2, {"a": 0, "b": 1, "c": 2})]
+SPANS = {("a", "b"): (1, None), ("b", "c"): (1, 2)}
+SPANS_OF_A_RING = {("a", "b"): (1, None), ("b", "c"): (1, 2), ("c", "a"): (0, None)}
+FEW_SPANS = {("a", "b"): (0, 1), ("b", "c"): (0, 1), ("a", "c"): (0, 0)}
 
 
 def is_plain_number(thing):
@@ -80,6 +92,14 @@ def is_part(thing):
         is_walker(name) and is_plain_number(number) for name, number in thing.items())
 
 
+def is_photo(thing):
+    return is_list(thing) and all(is_walker(each) for each in thing) and sorted(thing) == ["a", "b", "c"]
+
+
+def is_times(thing):
+    return is_plain_number(thing) and thing > 0
+
+
 def last_one(many):
     return many - 1
 
@@ -93,6 +113,7 @@ STAND_ASKED = Wrong(errors.BadStand, "stand")
 WALKER = Wrong(errors.NoWalker, "walker", is_walker)
 STEP = Wrong(errors.BadStep, "step", is_near_step)
 NUMBER = Wrong(errors.BadNumber, "number", is_plain_number)
+PHOTO_ASKED = Wrong(refusals.BadPhoto, "photo", is_photo)
 
 REFUSED = {
     "path": PATH,
@@ -130,10 +151,27 @@ REFUSED = {
     "part": Wrong(errors.BadPart, "part", is_part),
     "index": Wrong(errors.BadIndex, "index", lambda thing: is_plain_number(thing) and thing < 16),
     "notes": Wrong(errors.BadNotes, "notes"),
+    "photo": PHOTO_ASKED,
+    "gains": Wrong(refusals.BadGains, "gains"),
+    "photos": Wrong(refusals.BadPhotos, "index"),
+    "walk": Wrong(refusals.BadWalk, "walk"),
+    "hour": Wrong(refusals.BadHour, "hour", is_plain_number),
+    "lap": Wrong(refusals.BadLap, "lap", lambda thing: is_plain_number(thing) and thing > 2),
+    "posts": Wrong(refusals.BadPosts, "posts"),
+    "looks": Wrong(refusals.BadLooks, "index", is_empty_list),
+    "spans": Wrong(refusals.BadSpans, "spans", lambda thing: thing == {}),
+    "x": WALKER,
+    "y": WALKER,
 }
 # Where a function lets less of a parameter than others.
 SPECIAL = {
     ("stand_at", "number"): Wrong(errors.BadNumber, "number", is_small_number),
+    ("fewest_changes", "later"): Wrong(errors.BadNotes, "notes"),
+    ("row_of_notes", "later"): Wrong(errors.BadNotes, "notes"),
+    ("stand_of_laps", "laps"): Wrong(refusals.BadLaps, "laps"),
+    ("photo_turned", "many"): Wrong(errors.BadMany, "many", lambda thing: is_plain_number(thing) and thing < 3),
+    ("can_be_between", "many"): Wrong(errors.BadMany, "many", is_plain_number),
+    ("caught_at", "times"): Wrong(errors.BadTimes, "times", is_times),
 }
 # Errors that are due ahead of those of parameters that stand ahead.
 AHEAD = ["path", "most"]
@@ -146,10 +184,15 @@ class Call:
         self.function = function
         self.told = told
         self.arguments = arguments
-        self.refused = {name: SPECIAL.get((self.name(), name), REFUSED[name]) for name in arguments}
+        self.refused = {name: self.wrong(name) for name in arguments}
 
     def name(self):
         return self.function.__name__
+
+    def wrong(self, name):
+        if name == "later" and "photo" in self.arguments:
+            return PHOTO_ASKED
+        return SPECIAL.get((self.name(), name), REFUSED[name])
 
     def in_order(self):
         """The parameters in the order in which their errors are due."""
@@ -262,6 +305,48 @@ CALLS = [
     call(shownotes.count_ended, 25, most=2),
     call(shownotes.net_span, (2, 3), notes=ENDED_NOTES, most=2, one="a", other="b"),
     call(shownotes.stands_showing, [{"a": 3, "b": -2, "c": 2}, {"a": 4, "b": -3, "c": 2}], notes=ENDED_NOTES, most=2),
+    call(noterows.fewest_changes, 2, notes=NOTES, later=NEXT_NOTES, most=2),
+    call(noterows.row_of_notes, [NOTES, FREE_NOTES, NEXT_NOTES], notes=NOTES, later=NEXT_NOTES, most=2),
+    call(noterows.next_changes, [("b", "a"), ("b", "c"), ("c", "b")], notes=NOTES, most=2),
+    call(noterows.change_shown, {"a": 5, "b": 0, "c": -2}, notes=NOTES, most=2, one="b", other="c"),
+    call(photos.photo_of, ["b", "a", "c"], stand=STAND),
+    call(photos.is_photo, True, thing=PHOTO),
+    call(photos.laps_of, {"a": 1, "b": 0, "c": -1}, stand=STAND),
+    call(photos.stand_of_laps, STAND, photo=["b", "a", "c"], laps={"a": 1, "b": 0, "c": -1}),
+    call(photos.are_gains, True, photo=PHOTO, later=LATER_PHOTO, thing={"a": 2, "b": 0, "c": -2}),
+    call(photos.overtakings_of, 3, photo=PHOTO, gains={"a": 2, "b": 0, "c": -2}),
+    call(photos.photo_turned, ["c", "a", "b"], photo=PHOTO, many=2),
+    call(fewbetween.fewest_between, 1, photo=PHOTO, later=LATER_PHOTO),
+    call(fewbetween.fewest_gains, {"a": -1, "b": 0, "c": 1}, photo=PHOTO, later=LATER_PHOTO),
+    call(fewbetween.count_fewest, 3, photo=PHOTO, later=["b", "c", "a"]),
+    call(fewbetween.surely_between, [("c", "a")], photo=PHOTO, later=LATER_PHOTO),
+    call(fewbetween.perhaps_between, [("c", "a")], photo=PHOTO, later=LATER_PHOTO),
+    call(fewbetween.can_be_between, True, photo=PHOTO, later=LATER_PHOTO, many=3),
+    call(fewbetween.fewest_turned, (0, 2), photo=PHOTO, later=["b", "c", "a"]),
+    call(fewbetween.fewest_through, 2, photos=[PHOTO, LATER_PHOTO, PHOTO]),
+    call(walks.is_walk, True, thing=WALK),
+    call(walks.stand_then, {"a": 1, "b": 0, "c": 2}, walk=WALK, hour=3),
+    call(walks.caught_at, (7, 1), walk=WALK, one="a", other="b", times=2),
+    call(walks.next_catch, ((2, 1), [("a", "b")]), walk=WALK, hour=2),
+    call(walks.as_at_first, (5, 1), walk=WALK),
+    call(walks.shown, ((2, 1), (7, 2)), walk=WALK, stand={"a": 1, "b": 0, "c": 2}),
+    call(walks.walk_to, (3, {"a": 0, "b": 1, "c": 2}, {"a": 7, "b": 2, "c": 0}), stand=STAND),
+    call(pacelooks.room, 4, lap=10, posts=POSTS, looks=LOOKS, one="a", other="b"),
+    call(pacelooks.paces_for, {"a": 2, "b": 0, "c": 0}, lap=10, posts=POSTS, looks=LOOKS),
+    call(pacelooks.pace_ring, ["b", "a"], lap=10, posts=POSTS, looks=LOOKS_OF_A_RING),
+    call(pacelooks.pace_span, (2, 4), lap=10, posts=POSTS, looks=LOOKS, one="a", other="b"),
+    call(pacelooks.surely_faster, [("a", "b")], lap=10, posts=POSTS, looks=LOOKS),
+    call(netspans.fits, True, spans=SPANS, thing={"a": 2, "b": 1, "c": 0}),
+    call(netspans.span_room, 2, spans=SPANS, x="b", y="c"),
+    call(netspans.stand_within, {"a": 2, "b": 1, "c": 0}, spans=SPANS),
+    call(netspans.spans_ring, ["c", "b", "a"], spans=SPANS_OF_A_RING),
+    call(netspans.net_bounds, (1, None), spans=SPANS, one="a", other="c"),
+    call(netspans.sure_overtakers, [("a", "b"), ("a", "c"), ("b", "c")], spans=SPANS),
+    call(netspans.place_span, (2, None), spans=SPANS, walker="a"),
+    call(withincounts.count_fits, 3, spans=FEW_SPANS),
+    call(withincounts.all_fits, [FIRST, {"a": 0, "b": 2, "c": 1}, {"a": 1, "b": 0, "c": 2}], spans=FEW_SPANS),
+    call(withincounts.spans_of, {("a", "b"): (0, 2), ("a", "c"): (0, 2), ("b", "a"): (-2, 0), ("b", "c"): (0, 1),
+                                 ("c", "a"): (-2, 0), ("c", "b"): (-1, 0)}, stands=[STAND, FIRST]),
     call(laps.is_within, True, stand=STAND, laps=2),
     call(laps.most_laps, 2, stand=STAND),
     call(laps.first_beyond, ("a", "b"), stand=STAND, laps=1),

@@ -19,6 +19,14 @@ FUNCTIONS = {
     "capped": "least_stand run_of_noted",
     "notecounts": "count_notes count_noted noted_at noted_index",
     "shownotes": "are_notes notes_clash last_stand free_lot groups count_ended net_span stands_showing",
+    "noterows": "fewest_changes row_of_notes next_changes change_shown",
+    "photos": "photo_of is_photo laps_of stand_of_laps are_gains overtakings_of photo_turned",
+    "fewbetween": """fewest_between fewest_gains count_fewest surely_between perhaps_between can_be_between
+        fewest_turned fewest_through""",
+    "walks": "is_walk stand_then caught_at next_catch as_at_first shown walk_to",
+    "pacelooks": "room paces_for pace_ring pace_span surely_faster",
+    "netspans": "fits span_room stand_within spans_ring net_bounds sure_overtakers place_span",
+    "withincounts": "count_fits all_fits spans_of",
     "laps": "is_within most_laps first_beyond leads may_overtake",
 }
 

@@ -194,8 +194,8 @@ class Deeds(ToldCase):
         wrongs = [("overtake", "a"), ("overtake",), ("overtake", "a", "b", "c"), ("overtake", "a", 1),
                   ("overtake", "A", "b"), ("overtake", "a", ""), ("overtake", ["a"], "b"),
                   ("overtake", "a", "abcdefghi"), ("overtake", "1a", "b"), ("round", "a"), ("round", "a", 0),
-                  ("round", "a", -1), ("round", "a", True),
-                  ("round", "a", "1"), ("round", 1, 1), ("round", "a", None), ("round", "a", 1, 1), ("round", "a b", 1),
+                  ("round", "a", -1), ("round", "a", True), ("round", "a", "1"), ("round", 1, 1),
+                  ("round", "a", None), ("round", "a", 1, 1), ("round", "a b", 1),
                   ("watch",), ("hold",), ("free",), ("watch", ("all",), ("laps",)), ("hold", 1, 2), ("Watch", ("all",)),
                   ("undo",), ("",), (None, "a", "b"), (("overtake",), "a", "b"), "overtake", ["overtake"], (), [],
                   {"overtake": 1}, (1, 2, 3), ("net", "a", "b"), ("all",), ("do", "a"), None, ABC, Desk(ABC)]
@@ -274,8 +274,8 @@ class Deeds(ToldCase):
 
 NO_QUESTIONS = [("net", "a"), ("net", "a", "a"), ("net", "a", "d"), ("net", "d", "a"), ("net", "a", "b", "c"),
                 ("made",), ("made", "d"), ("made", "a", "b"), ("made", ["a"]), ("made", None), ("noted", "a"),
-                ("noted", "a", 0),
-                ("noted", "a", True), ("noted", "a", "1"), ("noted", "d", 1), ("noted", 1, "a"), ("noted", "a", 1, 1),
+                ("noted", "a", 0), ("noted", "a", True), ("noted", "a", "1"), ("noted", "d", 1),
+                ("noted", 1, "a"), ("noted", "a", 1, 1),
                 ("ahead",), ("ahead", "d"), ("ahead", "a", "b"), ("laps", 1), ("all", "a"), ("Laps",), "laps", "all",
                 ["lap"], (("laps",),), (None,), (1,), {"laps": 1}, {}, (), [], None, ("watch",)]
 
@@ -284,8 +284,8 @@ class Questions(ToldCase):
     def test_each_question(self):
         desk = done(("round", "b", 10 ** 6), ("overtake", "c", "a"))
         told = {("net", "b", "a"): 10 ** 6, ("net", "a", "b"): -10 ** 6, ("net", "c", "a"): 1,
-                ("made", "b"): 2 * 10 ** 6, ("made", "c"): 1, ("made", "a"): 0, ("noted", "b", 1): 2, ("noted", "b",
-                7): 14, ("noted", "c", 9): 1,
+                ("made", "b"): 2 * 10 ** 6, ("made", "c"): 1, ("made", "a"): 0,
+                ("noted", "b", 1): 2, ("noted", "b", 7): 14, ("noted", "c", 9): 1,
                 ("noted", "b", 10 ** 6): 2 * 10 ** 6, ("noted", "b", 10 ** 9): 2 * 10 ** 6, ("noted", "a", 3): 0,
                 ("ahead", "a"): "c", ("ahead", "b"): "a", ("ahead", "c"): "b", ("laps",): 10 ** 6,
                 ("all",): 2 * 10 ** 6 + 1}
