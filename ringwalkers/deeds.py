@@ -19,7 +19,7 @@ def need_deed(thing):
 
 def is_deed(thing):
     """Whether any object is a deed."""
-    if not is_list(thing) or len(thing) == 0 or not isinstance(thing[0], str):
+    if not is_list(thing) or len(thing) == 0:
         return False
     word = thing[0]
     rest = thing[1:]

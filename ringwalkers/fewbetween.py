@@ -78,7 +78,7 @@ def perhaps_between(path, photo, later):
 
 
 def nets_between(names, photo, later):
-    """All pairs, each with the list of their nets in runs with so few overtakings."""
+    """All pairs, each with nets in runs with so few overtakings, the least and the greatest among them."""
     rests = rests_in(photo)
     gains = least_gains(names, photo, later)
     high = free_ones(names, gains, max(list(gains.values())))
@@ -92,9 +92,12 @@ def nets_between(names, photo, later):
 
 
 def gains_of_two(gains, high, low, one, other):
-    """All gains that two can have at once: any of the free ones can be those with the greatest and the least ones."""
+    """The gains that two can have at once: any of the free ones can be those with the greatest and the least ones.
+
+    That two free ones have the same gain is left out: it lies between the two ways in which they have unlike ones.
+    """
     free = high + low
-    if not free or (one not in free and other not in free):
+    if one not in free and other not in free:
         return [(gains[one], gains[other])]
     greatest = gains[high[0]]
     least = gains[low[0]]
@@ -102,12 +105,7 @@ def gains_of_two(gains, high, low, one, other):
         return [(greatest, gains[other]), (least, gains[other])]
     if one not in free:
         return [(gains[one], greatest), (gains[one], least)]
-    found = [(greatest, least), (least, greatest)]
-    if len(high) > 1:
-        found.append((greatest, greatest))
-    if len(low) > 1:
-        found.append((least, least))
-    return found
+    return [(greatest, least), (least, greatest)]
 
 
 def can_be_between(path, photo, later, many):

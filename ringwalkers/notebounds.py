@@ -71,12 +71,7 @@ def least_showing(names, notes, most):
     nets = {}
     for one, other in notes:
         # Who overtook other has a least net: 0 less the greatest one of the turned pair.
-        if notes[one, other] > 0:
-            nets[one, other] = -greatest[other, one]
-        elif notes[other, one] > 0:
-            nets[one, other] = greatest[one, other]
-        else:
-            nets[one, other] = 0
+        nets[one, other] = -greatest[other, one] if notes[one, other] > 0 else greatest[one, other]
     return placed_by(names, nets)
 
 
@@ -87,8 +82,5 @@ def last_showing(names, notes, most):
         return None
     nets = {}
     for one, other in notes:
-        if notes[one, other] > 0:
-            nets[one, other] = greatest[one, other]
-        else:
-            nets[one, other] = -greatest[other, one] if notes[other, one] > 0 else 0
+        nets[one, other] = greatest[one, other] if notes[one, other] > 0 else -greatest[other, one]
     return placed_by(names, nets)

@@ -15,7 +15,7 @@ def need_question(names, thing):
 
 def is_asking(names, thing):
     """Whether any object is a question."""
-    if not is_list(thing) or len(thing) == 0 or not isinstance(thing[0], str):
+    if not is_list(thing) or len(thing) == 0:
         return False
     word = thing[0]
     rest = thing[1:]

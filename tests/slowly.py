@@ -8,7 +8,9 @@ import itertools
 
 
 def names_of(many):
-    return ["a", "b", "c", "d", "e", "f", "g", "h"][:many]
+    """The first letters, but not in their own order: c a b, c a b d, e c a b d, .."""
+    letters = ["a", "b", "c", "d", "e", "f", "g", "h"][:many]
+    return letters[::2][::-1] + letters[1::2]
 
 
 def many_names(many):

@@ -202,8 +202,7 @@ class ForEver(ToldCase):
                     self.assertTold(again(path, walked.places, times_back(path, walked.places)), first_stand(path))
 
     def test_fastest_of_circles_however_long(self):
-        names = slowly.names_of(6)
-        path = Path(names)
+        path = Path(["a", "b", "c", "d", "e", "f"])
         # One alone gains 6, two gain 6, three lose 12.
         alone = {"a": 6, "b": 2, "c": 7, "d": -2, "e": -1, "f": 3}
         self.assertTold(circles(path, alone), [(["a"], 6), (["b", "c"], 6), (["d", "e", "f"], -12)])

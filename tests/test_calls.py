@@ -8,11 +8,25 @@ import unittest
 from ringwalkers.paths import Path
 
 from tests.anything import ANYTHING
+from tests import calls
 from tests.calls import ABC, CALLS, FIRST, OTHER_STAND, STAND
 from tests.told import ToldCase, is_same, shape
 
 FAR_STAND = {"a": -6 * 10 ** 18, "b": 1 + 3 * 10 ** 18, "c": 2 + 3 * 10 ** 18}
 STANDS = [FIRST, STAND, OTHER_STAND, {"a": 0, "b": 2, "c": 1}]
+# Others in the place of what a call is handed, one path asked of one behind another.
+IN_TURNS = {
+    "stands": [calls.STANDS, calls.STANDS_OF_A_RING, [STAND], [FIRST, STAND]],
+    "notes": [calls.NOTES, calls.ENDED_NOTES, calls.FREE_NOTES, calls.NEXT_NOTES],
+    "noted": [{"a": 2, "b": 1, "c": 0}, {"a": 0, "b": 1, "c": 1}, {"a": 1, "b": 1, "c": 1}],
+    "part": [{"a": 0, "b": 0}, {"a": 0, "c": 1}, {"b": 9, "c": 9}],
+    "photo": [calls.PHOTO, calls.LATER_PHOTO, ["b", "a", "c"]],
+    "later": [calls.LATER_PHOTO, calls.STAND, calls.NEXT_NOTES, ["b", "c", "a"], calls.OTHER_STAND],
+    "walk": [calls.WALK, (10, calls.POSTS, {"a": 0, "b": 1, "c": 5}), (11, calls.POSTS, {"a": 3, "b": 1, "c": 1})],
+    "looks": [calls.LOOKS, calls.LOOKS_OF_A_RING, [], [(1, OTHER_STAND)]],
+    "spans": [calls.SPANS, calls.SPANS_OF_A_RING, calls.FEW_SPANS, {}],
+    "most": [1, 2, 3],
+}
 # What goes through all runs is for near stands only.
 NEAR_ONLY = ["count_runs", "runs_between", "earlier_ones"]
 
@@ -120,6 +134,20 @@ class EveryCall(ToldCase):
                 for stand, answer in list(zip(stands, asked)) * 2:
                     again = answer_of(call.function, dict(call.arguments, stand=stand))
                     self.assertTrue(is_same(again, answer), shape([again, answer]))
+
+    def test_one_path_asked_of_other_things_in_turns(self):
+        for call in CALLS:
+            for name in call.arguments:
+                with self.subTest(function=call.name(), parameter=name):
+                    asked = []
+                    for thing in IN_TURNS.get(name, []) * 2:
+                        told = answer_of(call.function, dict(call.arguments, **{name: thing}))
+                        other = {"path": Path(["a", "b", "c"]), name: thing}
+                        fresh = answer_of(call.function, dict(call.arguments, **other))
+                        self.assertTrue(is_same(told, fresh), shape([told, fresh]))
+                        asked.append(told)
+                    half = len(asked) // 2
+                    self.assertTold(asked[:half], asked[half:])
 
     def test_a_path_of_others_in_between(self):
         for call in CALLS:

@@ -73,6 +73,9 @@ class Rows(ToldCase):
                     expected = left_sum(names, nets, row) == least
                     self.assertTold(is_holding_row(path, stands, one, other, row), expected)
                     self.assertTold(is_holding_row(path, tuple(stands), one, other, tuple(row)), expected)
+                for row in itertools.permutations(names, 2):
+                    expected = row == (one, other) and left_sum(names, nets, row) == least
+                    self.assertTold(is_holding_row(path, stands, one, other, row), expected)
                 held = least - (1 if names.index(other) < names.index(one) else 0)
                 self.assertEqual(max(net(path, last, one, other), 0), max(held, 0))
 
@@ -104,6 +107,9 @@ class Rows(ToldCase):
             self.assertEqual(done_sum(names, nets, told), greatest)
             forced = greatest + 1 - (1 if names.index(other) < names.index(one) else 0)
             self.assertEqual(net(path, common, one, other), forced)
+        for row in itertools.permutations(names, 2):
+            expected = row == (one, other) and done_sum(names, nets, row) == greatest is not None
+            self.assertTold(is_forcing_row(path, stands, one, other, row), expected)
         for row, added in zip(rows, sums):
             expected = added is not None and added == greatest
             self.assertTold(is_forcing_row(path, stands, one, other, row), expected)

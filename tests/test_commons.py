@@ -43,7 +43,7 @@ class Near:
             yield chance.choices(stands, k=chance.randint(1, longest))
 
 
-NEAR = [Near(2, 5), Near(3, 5), Near(4, 3), Near(5, 2)]
+NEAR = [Near(2, 5), Near(3, 7), Near(4, 3), Near(5, 2)]
 
 
 class Earlier(ToldCase):

@@ -166,6 +166,9 @@ class DrawnDeeds(ToldCase):
         self.assertIs(desk == desk.copy(), True)
 
 
+DEED_OF_NONE = ("overtake", "z", "no name")
+
+
 class Deeds(ToldCase):
     def test_overtaking(self):
         desk = Desk(ABC)
@@ -265,6 +268,13 @@ class Deeds(ToldCase):
         self.assertTold(desk.do(("round", "a", 5)), [])
 
     def test_order_of_errors(self):
+        desk = done(("overtake", "a", "b"), ("overtake", "a", "c"), ("hold", ("all",)))
+        self.assertRefused(NotBehind, {"one": "b", "other": "a"}, desk.do, ("overtake", "b", "a"))
+        self.assertRefused(WasOvertaken, {"one": "c", "other": "a"}, desk.do, ("overtake", "c", "a"))
+        self.assertRefused(NoWalker, {"walker": "z"}, desk.do, ("overtake", "a", "z"))
+        self.assertRefused(NoWalker, {"walker": "y"}, desk.do, ("overtake", "y", "z"))
+        self.assertRefused(BadDeed, {"thing": DEED_OF_NONE}, desk.do, DEED_OF_NONE)
+        self.assertRefused(NoWalker, {"walker": "z"}, desk.do, ("round", "z", 1))
         desk = done(("overtake", "a", "b"), ("hold", ("all",)), ("hold", ("ahead", "c")))
         self.assertRefused(WasOvertaken, {"one": "b", "other": "a"}, desk.do, ("overtake", "b", "a"))
         self.assertRefused(WasOvertaken, {"one": "b", "other": "a"}, desk.do, ("round", "b", 1))
@@ -450,6 +460,13 @@ class BackAndOn(ToldCase):
         self.assertTold(desk.trial(lambda handed: handed.undo()), ("overtake", "a", "b"))
         self.assertTold(desk.again(), ("overtake", "a", "c"))
 
+    def test_work_is_called_once(self):
+        desk = done(("overtake", "a", "b"))
+        called = []
+        self.assertIsNone(desk.trial(called.append))
+        self.assertEqual(len(called), 1)
+        self.assertIs(called[0], desk)
+
     def test_what_work_returns_is_not_looked_at(self):
         for thing in ANYTHING:
             self.assertIs(Desk(ABC).trial(lambda handed: thing), thing)
@@ -471,6 +488,9 @@ class Equal(ToldCase):
         for other in others + ANYTHING:
             self.assertIs(desk == other, False)
         self.assertIs(Desk(Path(["a", "b"])) == Desk(Path(["b", "a"])), False)
+        same_places = done(("overtake", "a", "b"), names="ab")
+        self.assertTold(same_places.stand(), {"a": 1, "b": 0})
+        self.assertIs(same_places == Desk(Path(["b", "a"])), False)
         self.assertIs(Desk(Path(["a", "b"])) == Desk(Path(("a", "b"))), True)
         back = done(("round", "b", 3))
         back.undo()

@@ -20,6 +20,7 @@ from tests.told import ToldCase
 ABC = Path(["a", "b", "c"])
 PHOTO = ["a", "b", "c"]
 LATER = ["c", "b", "a"]
+BAD_PHOTO = ["a", "b", "a"]
 
 
 def near_photos():
@@ -214,7 +215,8 @@ class Wrong(ToldCase):
                  lambda path, photo, later: can_be_between(path, photo, later, -1)]
         for work in works:
             for thing in NO_PHOTOS + [thing for thing in ANYTHING if not is_right(thing)]:
-                self.assertRefused(BadPhoto, {"photo": thing}, work, ABC, thing, thing)
+                self.assertRefused(BadPhoto, {"photo": thing}, work, ABC, thing, BAD_PHOTO)
+                self.assertRefused(BadPhoto, {"photo": thing}, work, ABC, thing, LATER)
                 self.assertRefused(BadPhoto, {"photo": thing}, work, ABC, LATER, thing)
             self.assertRefused(BadPath, {"thing": PHOTO}, work, PHOTO, None, None)
 

@@ -208,7 +208,7 @@ class Groups(ToldCase):
         for one, other in itertools.combinations(names, 2):
             if max(told[one, other], told[other, one]) < most:
                 joined = [lot for lot in lots if one in lot or other in lot]
-                lots = [lot for lot in lots if lot not in joined] + [sorted(sum(joined, []))]
+                lots = [lot for lot in lots if lot not in joined] + [sorted(sum(joined, []), key=names.index)]
         orders = [order for order in itertools.permutations(lots) if all(
             told[x, y] == most for former, latter in itertools.combinations(order, 2) for x in former for y in latter)]
         self.assertEqual(len(orders), 1)
