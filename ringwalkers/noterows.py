@@ -58,7 +58,7 @@ def may_rise(names, nets, most, pair):
     one, other = pair
     if nets[one, other] == most:
         return False
-    risen = dict(nets)
+    risen = {each: nets[each] for each in nets}
     risen[one, other] += 1
     risen[other, one] -= 1
     rank = {name: index for index, name in enumerate(names)}

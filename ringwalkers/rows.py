@@ -6,7 +6,7 @@ Steps are a dict from some pairs of unlike walkers to integers.
 
 def least_sums(names, steps):
     """The least sum over all rows from one to other, for all pairs to which a row leads, without a ring below 0."""
-    sums = dict(steps)
+    sums = {pair: steps[pair] for pair in steps}
     for mid in names:
         for one in names:
             if (one, mid) in sums:

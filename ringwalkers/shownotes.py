@@ -2,8 +2,8 @@
 
 from ringwalkers.checks import need_walker
 from ringwalkers.counting import power
-from ringwalkers.notebounds import (
-    first_notes_clash, is_noting, last_nets, last_showing, least_showing, need_notes, need_shown_notes)
+from ringwalkers.notebounds import first_notes_clash, is_noting, last_nets, last_showing, least_showing
+from ringwalkers.notebounds import need_notes, need_shown_notes
 from ringwalkers.notings import need_most
 from ringwalkers.paths import walkers_of
 from ringwalkers.towards import stands_on_the_way

@@ -47,7 +47,8 @@ def keys_within(names, spans):
     known = {found[0]: True}
     queue = [found[0]]
     while queue:
-        for key in keys_next_to(names, queue.pop()):
+        here = queue.pop()
+        for key in keys_next_to(names, here):
             if key not in known and lies_within(names, spans, places_of_key(names, key)):
                 known[key] = True
                 found.append(key)

@@ -5,7 +5,7 @@ import unittest
 
 from ringwalkers.errors import BadIndex, BadMost, BadNoted, BadNumber, BadPath
 from ringwalkers.notecounts import count_noted, count_notes, noted_at, noted_index
-from ringwalkers.notes import noted_fault
+from ringwalkers.notes import noted_fault, notes_of_noted
 from ringwalkers.paths import Path
 
 from tests import slowly
@@ -98,6 +98,26 @@ class Ordered(ToldCase):
                 numbers = dict(zip(names, numbers))
                 if noted_fault(Path(names), numbers, most) is not None:
                     self.assertTold(noted_index(Path(names), numbers, most), None)
+
+    def test_lesser_ones_have_no_fault_and_greatest_are_in_any_order(self):
+        for many, most in SMALL:
+            names = slowly.names_of(many)
+            path = Path(names)
+            right = {tuple(numbers) for numbers in right_numbers(many, most)}
+            for numbers in right:
+                for place in range(many):
+                    if numbers[place] > 0:
+                        self.assertIn(numbers[:place] + (numbers[place] - 1,) + numbers[place + 1:], right)
+            greatest = [numbers for numbers in right
+                        if not any(numbers[:place] + (numbers[place] + 1,) + numbers[place + 1:] in right
+                                   for place in range(many))]
+            orders = set(itertools.permutations([place * most for place in range(many)]))
+            self.assertEqual(set(greatest), orders)
+            for numbers in orders:
+                told = notes_of_noted(path, dict(zip(names, numbers)), most)
+                for one, other in slowly.all_pairs(names):
+                    expected = most if numbers[names.index(one)] > numbers[names.index(other)] else 0
+                    self.assertEqual(told[one, other], expected)
 
     def test_great_ones(self):
         for many, most in ((12, 30), (12, 7), (13, 32), (2, 10 ** 6), (5, 10 ** 9)):
