@@ -3,7 +3,7 @@
 from ringwalkers.checks import need_walker
 from ringwalkers.commonbounds import each_nets, forced_most, held_most, need_no_ring, need_stands
 from ringwalkers.errors import SameWalker
-from ringwalkers.kinds import is_list, is_walker
+from ringwalkers.kinds import first_stranger, is_list
 from ringwalkers.paths import walkers_of
 from ringwalkers.rooms import rooms_of
 from ringwalkers.rows import least_row, sum_of_row
@@ -58,9 +58,9 @@ def less_done(names, stands):
 
 
 def is_least_row(names, steps, one, other, thing):
-    if not is_list(thing) or not all([is_walker(names, each) for each in thing]):
+    if not is_list(thing) or first_stranger(names, thing) is not None:
         return False
-    if len({each for each in thing}) < len(thing) or len(thing) < 2 or thing[0] != one or thing[-1] != other:
+    if len(thing) < 2 or thing[0] != one or thing[-1] != other:
         return False
     added = sum_of_row(steps, thing)
     return added is not None and added == sum_of_row(steps, least_row(names, steps, one, other))

@@ -49,3 +49,18 @@ def is_dict_of(keys, thing, is_right):
     if not isinstance(thing, dict) or len(thing) != len(keys):
         return False
     return all([key in thing and is_right(thing[key]) for key in keys])
+
+
+def is_dict_but_one(names, thing, is_right):
+    """Whether a thing is a dict from all walkers but one to things that are right."""
+    if not isinstance(thing, dict) or len(thing) != len(names) - 1:
+        return False
+    return all([is_walker(names, name) and is_right(value) for name, value in thing.items()])
+
+
+def first_stranger(names, things):
+    """The index of the first thing that is none of the walkers or stood before, None if there is none."""
+    for index, thing in enumerate(things):
+        if not is_walker(names, thing) or thing in things[:index]:
+            return index
+    return None

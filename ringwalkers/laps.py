@@ -56,6 +56,11 @@ def may_overtake(path, stand, laps):
     need_laps(laps)
     if greatest_net(names, stand) > laps:
         raise NotWithin(stand)
-    ahead = ahead_of(names, stand)
-    nets = nets_among(names, stand)
+    return who_may(names, stand, laps)
+
+
+def who_may(names, places, laps):
+    """The overtakings that may come next, in a stand within laps."""
+    ahead = ahead_of(names, places)
+    nets = nets_among(names, places)
     return [(one, ahead[one]) for one in names if 0 <= nets[one, ahead[one]] < laps]

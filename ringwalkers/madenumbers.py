@@ -86,6 +86,11 @@ def stand_of_suffered(path, numbers):
     """The stand whose numbers suffered are these, None if there is none."""
     names = walkers_of(path)
     need_numbers(names, numbers)
+    return places_of_suffered(names, numbers)
+
+
+def places_of_suffered(names, numbers):
+    """The places by which each suffered so many, None if nobody suffered 0."""
     # Seen backward, each made what they suffered.
     back = places_of_made(names[::-1], numbers)
     if back is None:
@@ -103,12 +108,16 @@ def laps_off(path, numbers):
     return laps, rest
 
 
+def need_others(names, others):
+    if not is_dict_of(names, others, is_number):
+        raise BadOthers(others)
+
+
 def lists_fault(path, numbers, others):
     """The first reason why no stand has these numbers made and those others suffered, None if one has."""
     names = walkers_of(path)
     need_numbers(names, numbers)
-    if not is_dict_of(names, others, is_number):
-        raise BadOthers(others)
+    need_others(names, others)
     places = places_of_made(names, numbers)
     if places is None:
         return ("made",)

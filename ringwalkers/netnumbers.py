@@ -8,8 +8,13 @@ from ringwalkers.places import first_places, pairs_ahead
 def nets_of(path, stand):
     names = walkers_of(path)
     need_stand(names, stand)
+    return gained(names, stand)
+
+
+def gained(names, places):
+    """By how much each place is above that in the first stand."""
     first = first_places(names)
-    return {name: stand[name] - first[name] for name in names}
+    return {name: places[name] - first[name] for name in names}
 
 
 def stand_of_nets(path, nets):

@@ -2,7 +2,7 @@
 
 from ringwalkers.checks import need_stand
 from ringwalkers.errors import BadPart
-from ringwalkers.kinds import is_number, is_walker
+from ringwalkers.kinds import is_dict_but_one, is_number
 from ringwalkers.notings import first_fault, least_walk, need_most, need_noted, noted_among, notes_among
 from ringwalkers.paths import walkers_of
 
@@ -45,7 +45,7 @@ def noted_fault(path, noted, most):
 def most_lacking(path, part, most):
     """The most that the one who lacks can have noted, None if none can be."""
     names = walkers_of(path)
-    if not is_part(names, part):
+    if not is_dict_but_one(names, part, is_number):
         raise BadPart(part)
     need_most(most)
     ascending = sorted(list(part.values()))
@@ -53,10 +53,3 @@ def most_lacking(path, part, most):
         return None
     above = [index for index, number in enumerate(ascending) if number > index * most]
     return most * (above[0] if above else len(ascending))
-
-
-def is_part(names, thing):
-    """Whether any object is a dict from all walkers but one to numbers."""
-    if not isinstance(thing, dict) or len(thing) != len(names) - 1:
-        return False
-    return all([is_walker(names, name) and is_number(number) for name, number in thing.items()])

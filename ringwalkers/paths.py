@@ -3,7 +3,7 @@
 from ringwalkers.checks import need_stand, need_walker
 from ringwalkers.errors import BadPath, BadWalkers, NotBehind
 from ringwalkers.kinds import is_list, is_name
-from ringwalkers.places import ahead_of, change_places, first_places, in_order, is_right_behind, is_standing
+from ringwalkers.places import ahead_of, change_places, first_places, in_order, is_right_behind, is_standing, row_from
 
 
 class Path:
@@ -55,11 +55,7 @@ def going_round(path, stand, walker):
     names = walkers_of(path)
     need_stand(names, stand)
     need_walker(names, walker)
-    ahead = ahead_of(names, stand)
-    row = [walker]
-    while len(row) < len(names):
-        row.append(ahead[row[-1]])
-    return row
+    return row_from(names, stand, walker)
 
 
 def overtaken(path, stand, one, other):

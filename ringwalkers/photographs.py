@@ -1,6 +1,6 @@
 """Photos as plain lists: what the files that tell of them share."""
 
-from ringwalkers.kinds import is_list_of, is_walker
+from ringwalkers.kinds import first_stranger, is_list_of
 from ringwalkers.places import pairs_ahead
 from ringwalkers.refusals import BadPhoto
 
@@ -12,9 +12,7 @@ def need_photo(names, photo):
 
 def is_photograph(names, thing):
     """Whether any object is a list of just all walkers, each once."""
-    if not is_list_of(len(names), thing) or not all([is_walker(names, each) for each in thing]):
-        return False
-    return len({each for each in thing}) == len(names)
+    return is_list_of(len(names), thing) and first_stranger(names, thing) is None
 
 
 def rests_in(photo):

@@ -48,6 +48,15 @@ def ahead_of(names, places):
     return {name: by_rest[(places[name] + 1) % many] for name in names}
 
 
+def row_from(names, places, walker):
+    """All walkers, each right behind the next one, from the walker on."""
+    ahead = ahead_of(names, places)
+    row = [walker]
+    while len(row) < len(names):
+        row.append(ahead[row[-1]])
+    return row
+
+
 def is_right_behind(names, places, one, other):
     return (places[one] + 1 - places[other]) % len(names) == 0
 
@@ -72,6 +81,13 @@ def nets_by(names, distances, lap):
         # At first the quotient of who is ahead in the order is -1, that of the other one 0.
         nets[one, other] += 1
     return nets
+
+
+def add_nets(nets, one, over):
+    """One's nets over others come to the nets of pairs, and with them those of the turned pairs."""
+    for other in over:
+        nets[one, other] = over[other]
+        nets[other, one] = -over[other]
 
 
 def placed_by(names, nets):

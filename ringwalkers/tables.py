@@ -2,9 +2,9 @@
 
 from ringwalkers.checks import need_nets, need_stand, need_walker
 from ringwalkers.errors import BadName, BadSome, BadTable
-from ringwalkers.kinds import is_dict_of, is_integer, is_list, is_name, is_walker
+from ringwalkers.kinds import first_stranger, is_dict_of, is_integer, is_list, is_name
 from ringwalkers.paths import Path, walkers_of
-from ringwalkers.places import nets_among, pairs_ahead, pairs_of, placed_by
+from ringwalkers.places import add_nets, nets_among, pairs_ahead, pairs_of, placed_by
 
 
 def table(path, stand):
@@ -85,9 +85,9 @@ def of_some(path, stand, some):
 def need_some(names, some):
     if not is_list(some):
         raise BadSome(0)
-    for index, thing in enumerate(some):
-        if not is_walker(names, thing) or thing in some[:index]:
-            raise BadSome(index)
+    stranger = first_stranger(names, some)
+    if stranger is not None:
+        raise BadSome(stranger)
     if len(some) < 2:
         raise BadSome(len(some))
 
@@ -100,12 +100,14 @@ def with_one_more(path, stand, name, nets):
     need_nets(names, nets)
     if first_unlike_two(names, stand, nets) is not None:
         return None
-    among = nets_among(names, stand)
-    for old in names:
-        among[name, old] = nets[old]
-        among[old, name] = -nets[old]
-    joined = Path(names + [name])
-    return joined, placed_by(joined.walkers(), among)
+    return with_newcomer(names, stand, name, nets)
+
+
+def with_newcomer(names, places, name, nets):
+    """The path with one more walker at its end, and the stand by which the new one has these nets, which can be."""
+    among = nets_among(names, places)
+    add_nets(among, name, nets)
+    return Path(names + [name]), placed_by(names + [name], among)
 
 
 def one_more_clash(path, stand, name, nets):

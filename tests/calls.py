@@ -2,9 +2,10 @@
 
 import ringwalkers.errors as errors
 import ringwalkers.refusals as refusals
-from ringwalkers import againandagain, capped, commonrows, commons, countbounds, counted, fewbetween, laps
-from ringwalkers import madenumbers, moreleft, netnumbers, netspans, notecounts, noterows, notes, numbered, pacelooks
-from ringwalkers import paths, photos, runs, shortestruns, shownotes, steps, tables, walks, withincounts
+from ringwalkers import againandagain, capped, commonrows, commons, countbounds, counted, fewbetween, halftold
+from ringwalkers import indoubt, joinings, lapcounts, laps, madenumbers, moreleft, netnumbers, netspans, notecounts
+from ringwalkers import noterows, notes, numbered, observers, pacelooks, paths, photos, runs, shortestruns, shownotes
+from ringwalkers import steps, tables, teams, views, walks, withincounts
 from ringwalkers.paths import Path
 
 ABC = Path(["a", "b", "c"])
@@ -34,6 +35,10 @@ LOOKS_OF_A_RING = [(1, {"a": 1, "b": 0, "c": 2}), (2, {"a": 0, "b": 1, "c": 2})]
 SPANS = {("a", "b"): (1, None), ("b", "c"): (1, 2)}
 SPANS_OF_A_RING = {("a", "b"): (1, None), ("b", "c"): (1, 2), ("c", "a"): (0, None)}
 FEW_SPANS = {("a", "b"): (0, 1), ("b", "c"): (0, 1), ("a", "c"): (0, 0)}
+VIEW = {"b": 2, "c": 2}
+XY = Path(["x", "y"])
+FIRST_XY = {"x": 0, "y": 1}
+SUMS = {"a": 5, "b": 4, "c": 4}
 
 
 def is_plain_number(thing):
@@ -60,10 +65,26 @@ def is_empty_list(thing):
     return is_list(thing) and len(thing) == 0
 
 
-def is_some(thing):
-    if not is_list(thing) or len(thing) < 2 or not all(is_walker(each) for each in thing):
+def is_lot(thing):
+    if not is_list(thing) or len(thing) == 0 or not all(is_walker(each) for each in thing):
         return False
     return len(set(thing)) == len(thing)
+
+
+def is_some(thing):
+    return is_lot(thing) and len(thing) > 1
+
+
+def is_integer(thing):
+    return isinstance(thing, int) and not isinstance(thing, bool)
+
+
+def is_made_of_some(thing):
+    return isinstance(thing, dict) and all(is_walker(name) and is_plain_number(thing[name]) for name in thing)
+
+
+def is_pairs(thing):
+    return is_empty_list(thing) or thing == [["a", "b"]]
 
 
 def is_new_name(thing):
@@ -122,7 +143,7 @@ REFUSED = {
     "one": WALKER,
     "other": WALKER,
     "thing": Wrong(None, None, is_any),
-    "run": Wrong(errors.BadRun, "index", lambda thing: is_empty_list(thing) or thing == [["a", "b"]]),
+    "run": Wrong(errors.BadRun, "index", is_pairs),
     "blocks": Wrong(errors.BadBlocks, "index", lambda thing: is_empty_list(thing) or thing == [([], 1)]),
     "table": Wrong(errors.BadTable, "table"),
     "some": Wrong(errors.BadSome, "index", is_some),
@@ -162,6 +183,17 @@ REFUSED = {
     "spans": Wrong(refusals.BadSpans, "spans", lambda thing: thing == {}),
     "x": WALKER,
     "y": WALKER,
+    "made": Wrong(refusals.BadMade, "made", is_made_of_some),
+    "view": Wrong(refusals.BadView, "view"),
+    "row": Wrong(refusals.BadRow, "index"),
+    "other_stand": STAND_ASKED,
+    "lot": Wrong(refusals.BadLot, "index", is_lot),
+    "pairs": Wrong(refusals.BadPairs, "index", is_pairs),
+    "first": PATH,
+    "second": PATH,
+    "sums": Wrong(refusals.BadSums, "sums"),
+    "names": Wrong(refusals.BadNames, "names"),
+    "pieces": Wrong(refusals.BadPieces, "index"),
 }
 # Where a function lets less of a parameter than others.
 SPECIAL = {
@@ -172,9 +204,14 @@ SPECIAL = {
     ("photo_turned", "many"): Wrong(errors.BadMany, "many", lambda thing: is_plain_number(thing) and thing < 3),
     ("can_be_between", "many"): Wrong(errors.BadMany, "many", is_plain_number),
     ("caught_at", "times"): Wrong(errors.BadTimes, "times", is_times),
+    ("stand_without", "part"): Wrong(errors.BadPart, "part"),
+    ("without_fault", "part"): Wrong(errors.BadPart, "part"),
+    ("stand_of_mixed", "nets"): Wrong(errors.BadNets, "nets", lambda thing: thing == {"a": 0}),
+    ("with_total", "total"): Wrong(errors.BadTotal, "total", is_integer),
+    ("count_joined", "total"): Wrong(errors.BadTotal, "total", is_integer),
 }
-# Errors that are due ahead of those of parameters that stand ahead.
-AHEAD = ["path", "most"]
+# Errors that are due ahead of those of parameters that stand ahead, where there is a parameter of a name.
+AHEAD = {"notes": ["path", "most"], "second": ["first", "second"]}
 
 
 class Call:
@@ -196,9 +233,8 @@ class Call:
 
     def in_order(self):
         """The parameters in the order in which their errors are due."""
-        if "notes" not in self.arguments:
-            return list(self.refused)
-        return AHEAD + [name for name in self.refused if name not in AHEAD]
+        ahead = [name for known, names in AHEAD.items() if known in self.arguments for name in names]
+        return ahead + [name for name in self.refused if name not in ahead]
 
 
 def call(function, told, **arguments):
@@ -347,9 +383,49 @@ CALLS = [
     call(withincounts.all_fits, [FIRST, {"a": 0, "b": 2, "c": 1}, {"a": 1, "b": 0, "c": 2}], spans=FEW_SPANS),
     call(withincounts.spans_of, {("a", "b"): (0, 2), ("a", "c"): (0, 2), ("b", "a"): (-2, 0), ("b", "c"): (0, 1),
                                  ("c", "a"): (-2, 0), ("c", "b"): (-1, 0)}, stands=[STAND, FIRST]),
+    call(indoubt.wrong_numbers, [("made", "b", 1), ("suffered", "c", 2)],
+         numbers={"a": 4, "b": 0, "c": 0}, others=SUFFERED),
+    call(indoubt.wrong_nets, [("b", -2), ("c", -3)], nets={"a": 4, "b": -1, "c": -2}),
+    call(indoubt.wrong_pairs, [("a", "b", 3), ("a", "b", 4), ("a", "c", 2), ("a", "c", 3), ("b", "c", 2), ("b", "c", 3)],
+         table={**TABLE, ("a", "c"): 4, ("c", "a"): -4}),
+    call(halftold.stand_without, STAND, part={"a": (4, 0), "b": (1, 2)}),
+    call(halftold.without_fault, ("numbers", "b"), part={"a": (4, 0), "b": (2, 3)}),
+    call(halftold.stand_of_mixed, STAND, made={"b": 1, "c": 0}, nets={"a": 4}),
+    call(views.view, VIEW, stand=STAND, walker="a"),
+    call(views.place_by, 4, walker="a", view=VIEW),
+    call(views.count_of_view, 2, walker="a", view=VIEW),
+    call(views.stand_seen, {"a": 4, "b": -1, "c": 0}, walker="a", view=VIEW, row=["b", "c"]),
+    call(observers.arcs, {"a": ["c", "b"]}, stand=STAND, lot=["a"]),
+    call(observers.are_alike_for, True, stand=STAND, other_stand={"a": 4, "b": -1, "c": 0}, lot=["a"]),
+    call(observers.count_alike, 2, stand=STAND, lot=["a"]),
+    call(observers.nets_known, [0, 1], stand=STAND, lot=["a"], one="b", other="c"),
+    call(observers.seams_left, [("c", "b")], stand=STAND, lot=["a"]),
+    call(observers.knows_all, True, stand=STAND, lot=["c", "a"]),
+    call(observers.tells_all, True, stand=STAND, lot=["a"], pairs=[("b", "c")]),
+    call(observers.fewest_observers, ["a", "b"], stand=STAND),
     call(laps.is_within, True, stand=STAND, laps=2),
     call(laps.most_laps, 2, stand=STAND),
     call(laps.first_beyond, ("a", "b"), stand=STAND, laps=1),
     call(laps.leads, {"a": 5, "b": 1, "c": 0}, stand=STAND),
     call(laps.may_overtake, [("a", "b"), ("b", "c"), ("c", "a")], stand=FIRST, laps=1),
+    call(lapcounts.count_within, 37, laps=2),
+    call(lapcounts.count_just, 24, laps=2),
+    call(lapcounts.stands_within, [FIRST], laps=0),
+    call(lapcounts.last_within, [{"a": -2, "b": 3, "c": 2}, {"a": 0, "b": -1, "c": 4}, {"a": 2, "b": 1, "c": 0}],
+         laps=1),
+    call(lapcounts.most_within, 5, laps=2),
+    call(lapcounts.busiest, {"a": -4, "b": 4, "c": 3}, laps=2),
+    call(joinings.with_total, (Path(["a", "b", "c", "d"]), {"a": 2, "b": 0, "c": -1, "d": 5}),
+         stand=OTHER_STAND, name="d", total=2),
+    Call(joinings.joint_path, Path(["a", "b", "c", "x", "y"]), first=ABC, second=XY),
+    Call(joinings.joined, {"a": 7, "b": 5, "c": 4, "x": -4, "y": -2},
+         first=ABC, stand=OTHER_STAND, second=XY, other_stand=FIRST_XY, sums=SUMS),
+    Call(joinings.joint_clash, ("a", "b"),
+         first=ABC, stand=OTHER_STAND, second=XY, other_stand=FIRST_XY, sums={"a": 3, "b": 4, "c": 4}),
+    Call(joinings.count_joined, 2, first=ABC, stand=OTHER_STAND, second=XY, other_stand=FIRST_XY, total=13),
+    call(teams.spread, (Path(["a", "a2", "b", "c"]), {"a": 4, "a2": 5, "b": -1, "c": -2}),
+         stand=STAND, names={"a": ["a", "a2"], "b": ["b"], "c": ["c"]}),
+    call(teams.gathered, (Path(["a", "c"]), {"a": 0, "c": 1}), stand=FIRST, pieces=[["a", "b"], ["c"]]),
+    call(teams.team_clash, ("met", "b", "c"), stand=STAND, pieces=[["a"], ["b", "c"]]),
+    call(teams.begun_with, (Path(["b", "c", "a"]), {"b": -1, "c": -2, "a": 6}), stand=STAND, walker="b"),
 ]

@@ -27,7 +27,15 @@ FUNCTIONS = {
     "pacelooks": "room paces_for pace_ring pace_span surely_faster",
     "netspans": "fits span_room stand_within spans_ring net_bounds sure_overtakers place_span",
     "withincounts": "count_fits all_fits spans_of",
+    "indoubt": "wrong_numbers wrong_nets wrong_pairs",
+    "halftold": "stand_without without_fault stand_of_mixed",
+    "views": "view place_by count_of_view stand_seen",
+    "observers": """arcs are_alike_for count_alike nets_known seams_left knows_all tells_all
+        fewest_observers""",
     "laps": "is_within most_laps first_beyond leads may_overtake",
+    "lapcounts": "count_within count_just stands_within last_within most_within busiest",
+    "joinings": "with_total joint_path joined joint_clash count_joined",
+    "teams": "spread gathered team_clash begun_with",
 }
 
 METHODS = {

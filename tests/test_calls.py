@@ -26,6 +26,18 @@ IN_TURNS = {
     "looks": [calls.LOOKS, calls.LOOKS_OF_A_RING, [], [(1, OTHER_STAND)]],
     "spans": [calls.SPANS, calls.SPANS_OF_A_RING, calls.FEW_SPANS, {}],
     "most": [1, 2, 3],
+    "nets": [calls.NETS, {"a": 1, "b": 2, "c": 3}, {"a": 4}, {"a": 0, "b": 0, "c": 0}],
+    "numbers": [calls.MADE, calls.SUFFERED, {"a": 1, "b": 1, "c": 1}],
+    "made": [{"b": 1, "c": 0}, {"b": 0, "c": 0}, {"b": 5, "c": 9}],
+    "view": [calls.VIEW, {"b": 0, "c": 0}, {"b": -1, "c": 2}],
+    "row": [["b", "c"], ["c", "b"]],
+    "lot": [["a"], ["b"], ["c", "b"], ["b", "c", "a"]],
+    "pairs": [[], [("c", "b")], [("a", "b"), ("a", "c")]],
+    "laps": [0, 1, 2, 3],
+    "total": [0, 2, 5, 13],
+    "sums": [calls.SUMS, {"a": 3, "b": 4, "c": 4}, {"a": 5, "b": 3, "c": 4}],
+    "other_stand": [{"x": 0, "y": 1}, {"x": 5, "y": -4}, calls.FIRST, calls.STAND],
+    "pieces": [[["a", "b"], ["c"]], [["a"], ["b", "c"]], [["a"], ["b"], ["c"]]],
 }
 # What goes through all runs is for near stands only.
 NEAR_ONLY = ["count_runs", "runs_between", "earlier_ones"]
@@ -124,7 +136,7 @@ class EveryCall(ToldCase):
     def test_one_path_asked_of_stands_in_turns(self):
         for call in CALLS:
             with self.subTest(function=call.name()):
-                if "stand" not in call.arguments:
+                if "stand" not in call.arguments or "path" not in call.arguments:
                     continue
                 asked = []
                 stands = STANDS if call.name() in NEAR_ONLY else STANDS + [FAR_STAND]
@@ -142,8 +154,8 @@ class EveryCall(ToldCase):
                     asked = []
                     for thing in IN_TURNS.get(name, []) * 2:
                         told = answer_of(call.function, dict(call.arguments, **{name: thing}))
-                        other = {"path": Path(["a", "b", "c"]), name: thing}
-                        fresh = answer_of(call.function, dict(call.arguments, **other))
+                        other = {each: Path(told_path.walkers()) for each, told_path in paths_of(call).items()}
+                        fresh = answer_of(call.function, dict(call.arguments, **other, **{name: thing}))
                         self.assertTrue(is_same(told, fresh), shape([told, fresh]))
                         asked.append(told)
                     half = len(asked) // 2
@@ -153,8 +165,15 @@ class EveryCall(ToldCase):
         for call in CALLS:
             with self.subTest(function=call.name()):
                 call.function(**call.arguments)
-                answer_of(call.function, dict(call.arguments, path=Path(["c", "b", "a"])))
-                self.assertTold(call.function(**dict(call.arguments, path=Path(["a", "b", "c"]))), call.told)
+                paths = paths_of(call)
+                others = {name: Path(path.walkers()[::-1]) for name, path in paths.items()}
+                answer_of(call.function, dict(call.arguments, **others))
+                fresh = {name: Path(path.walkers()) for name, path in paths.items()}
+                self.assertTold(call.function(**dict(call.arguments, **fresh)), call.told)
+
+
+def paths_of(call):
+    return {name: each for name, each in call.arguments.items() if isinstance(each, Path)}
 
 
 def answer_of(work, arguments):
