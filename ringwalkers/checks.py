@@ -1,6 +1,6 @@
 """The errors of parameters that several points show, raised for what they are not."""
 
-from ringwalkers.errors import BadNets, BadNumber, BadNumbers, BadStand, BadTimes, BadTotal, NoWalker
+from ringwalkers.errors import BadNets, BadNumber, BadNumbers, BadStand, BadTimes, BadTotal, NoWalker, SameWalker
 from ringwalkers.kinds import is_dict_of, is_integer, is_number, is_walker
 from ringwalkers.places import is_standing
 
@@ -13,6 +13,13 @@ def need_stand(names, stand):
 def need_walker(names, walker):
     if not is_walker(names, walker):
         raise NoWalker(walker)
+
+
+def need_unlike_walkers(names, one, other):
+    need_walker(names, one)
+    need_walker(names, other)
+    if one == other:
+        raise SameWalker(one)
 
 
 def need_nets(names, nets):
@@ -37,4 +44,9 @@ def need_total(total):
 
 def need_number(number):
     if not is_number(number):
+        raise BadNumber(number)
+
+
+def need_number_below(many, number):
+    if not is_number(number) or number >= many:
         raise BadNumber(number)

@@ -1,8 +1,7 @@
 """Rows that show how far some stands hold back, and force on, their common ones."""
 
-from ringwalkers.checks import need_walker
+from ringwalkers.checks import need_unlike_walkers
 from ringwalkers.commonbounds import each_nets, forced_most, held_most, need_no_ring, need_stands
-from ringwalkers.errors import SameWalker
 from ringwalkers.kinds import first_stranger, is_list
 from ringwalkers.paths import walkers_of
 from ringwalkers.rooms import rooms_of
@@ -41,10 +40,7 @@ def is_forcing_row(path, stands, one, other, thing):
 
 def need_ends(names, stands, one, other):
     need_stands(names, stands)
-    need_walker(names, one)
-    need_walker(names, other)
-    if one == other:
-        raise SameWalker(one)
+    need_unlike_walkers(names, one, other)
 
 
 def left_of(names, stands):

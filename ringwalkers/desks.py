@@ -163,3 +163,10 @@ class Desk:
         desk._states = states
         desk._done = done
         return desk
+
+
+def desk_of(path, places, watched):
+    """A desk without a deed done, where all stand so, and these questions are watched, each with whether it is held."""
+    desk = Desk(path)
+    desk._states = [(places, watched)]
+    return desk

@@ -63,21 +63,26 @@ def stand_of_mixed(path, made, nets):
     need_nets(others, nets)
     numbers = {name: made.get(name, 0) for name in names}
     places = places_of_made(names, numbers)
-    while places is not None and below(names, places, nets):
-        for name in below(names, places, nets):
-            numbers[name] += 1
+    while places is not None:
+        now = gained(names, places)
+        below = [name for name in others if now[name] < nets[name]]
+        if not below:
+            return places if all([now[name] == nets[name] for name in others]) else None
+        for name in below:
+            numbers[name] += sure_step(len(names), nets[name] - now[name])
         places = places_of_made(names, numbers)
-    if places is None or any([gained(names, places)[name] != nets[name] for name in others]):
-        return None
-    return places
+    return None
+
+
+def sure_step(many, lacking):
+    """How many more somebody must have made, at least, whose net is so far below the told one.
+
+    As real numbers nets would grow by many / 2 at most with each one made; that all are rounded makes 2 * many * many
+    at most of difference. Near the end it is one by one.
+    """
+    return max(2 * (lacking - 2 * many * many) // many, 1)
 
 
 def need_made_of_some(names, made):
     if not isinstance(made, dict) or not all([is_walker(names, name) and is_number(made[name]) for name in made]):
         raise BadMade(made)
-
-
-def below(names, places, nets):
-    """Whose net is below the told one."""
-    now = gained(names, places)
-    return [name for name in nets if now[name] < nets[name]]

@@ -15,8 +15,13 @@ def with_more(path, stand, left):
     need_stand(names, stand)
     if not is_dict_of(names, left, is_number):
         raise BadLeft(left)
-    ahead = ahead_of(names, stand)
-    return [name for name in names if left[name] > left[ahead[name]]]
+    return [one for one, _ in pairs_with_more(names, stand, left)]
+
+
+def pairs_with_more(names, places, left):
+    """All who have more left than the one right ahead of them, each with that one."""
+    ahead = ahead_of(names, places)
+    return [(name, ahead[name]) for name in names if left[name] > left[ahead[name]]]
 
 
 def made_run(path, numbers):
@@ -29,18 +34,11 @@ def made_run(path, numbers):
     places = first_places(names)
     run = []
     while max(list(left.values())) > 0:
-        one, other = first_with_more(names, places, left)
+        one, other = pairs_with_more(names, places, left)[0]
         change_places(places, one, other)
         left[one] -= 1
         run.append((one, other))
     return run
-
-
-def first_with_more(names, places, left):
-    """The first one who has more left than the one right ahead, and who that is."""
-    ahead = ahead_of(names, places)
-    one = [name for name in names if left[name] > left[ahead[name]]][0]
-    return one, ahead[one]
 
 
 def is_made_run(path, numbers, thing):

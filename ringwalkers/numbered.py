@@ -1,11 +1,9 @@
 """Stands with one total, numbered by the lists of their numbers made, and drawn by number."""
 
-from ringwalkers.checks import need_stand, need_total
+from ringwalkers.checks import need_number_below, need_stand, need_total
 from ringwalkers.choosers import need_chooser
 from ringwalkers.counted import lists_with_zero
 from ringwalkers.counting import choose
-from ringwalkers.errors import BadNumber
-from ringwalkers.kinds import is_number
 from ringwalkers.madenumbers import made_among, places_of_made
 from ringwalkers.paths import walkers_of
 
@@ -42,11 +40,6 @@ def drawn_stand(path, total, chooser):
     number = chooser(many)
     need_number_below(many, number)
     return numbered_places(names, total, number)
-
-
-def need_number_below(many, number):
-    if not is_number(number) or number >= many:
-        raise BadNumber(number)
 
 
 def numbered_places(names, total, number):

@@ -2,10 +2,12 @@
 
 import ringwalkers.errors as errors
 import ringwalkers.refusals as refusals
-from ringwalkers import againandagain, capped, commonrows, commons, countbounds, counted, fewbetween, halftold
-from ringwalkers import indoubt, joinings, lapcounts, laps, madenumbers, moreleft, netnumbers, netspans, notecounts
-from ringwalkers import noterows, notes, numbered, observers, pacelooks, paths, photos, runs, shortestruns, shownotes
-from ringwalkers import steps, tables, teams, views, walks, withincounts
+from ringwalkers import againandagain, askers, callers, capped, commonrows, commons, countbounds, counted, desktexts
+from ringwalkers import drawnsteps, fewbetween, halftold, indoubt, joinings, lapcounts, laps, madenumbers, moreleft
+from ringwalkers import netnumbers, netspans, notecounts, noterows, notes, numbered, observers, pacelooks, pairsteps
+from ringwalkers import paths, photos, pricelists, priceorders, priceweights, runs, shortestruns, shownotes, steps
+from ringwalkers import tables, teams, views, walks, withincounts
+from ringwalkers.desks import Desk
 from ringwalkers.paths import Path
 
 ABC = Path(["a", "b", "c"])
@@ -39,6 +41,12 @@ VIEW = {"b": 2, "c": 2}
 XY = Path(["x", "y"])
 FIRST_XY = {"x": 0, "y": 1}
 SUMS = {"a": 5, "b": 4, "c": 4}
+PRICES = {("a", "b"): 3, ("a", "c"): 1, ("b", "a"): 1, ("b", "c"): 1, ("c", "a"): 1, ("c", "b"): 1}
+ORDER = ["a", "c", "b"]
+WISHES = [("a", "b", 1)]
+WISHES_OF_A_RING = [("a", "b", 1), ("b", "a", 0)]
+WEIGHTS = ({("a", "b"): 3, ("a", "c"): 0, ("b", "c"): 0}, [3])
+TEXT = "walker a 5\nwalker b -2\nwalker c 0\nhold laps\n"
 
 
 def is_plain_number(thing):
@@ -83,6 +91,10 @@ def is_made_of_some(thing):
     return isinstance(thing, dict) and all(is_walker(name) and is_plain_number(thing[name]) for name in thing)
 
 
+def is_wishes(thing):
+    return is_empty_list(thing) or thing == [["a", "b", 1]]
+
+
 def is_pairs(thing):
     return is_empty_list(thing) or thing == [["a", "b"]]
 
@@ -94,14 +106,15 @@ def is_new_name(thing):
 class Wrong:
     """What is refused of a parameter: the error's class, the name under which it keeps the thing, what is right.
 
-    An error that keeps an index is due with 0 for what is no list.
+    An error that keeps an index is due with 0 for what is no list, one that keeps a line for what is no string.
     """
 
     def __init__(self, error, field, is_right=is_none):
         self.error = error
         self.field = field
         self.is_right = is_right
-        self.by_place = field == "index" and error is not errors.BadIndex
+        self.by_place = field in ("index", "line") and error is not errors.BadIndex
+        self.kinds = str if field == "line" else (list, tuple)
 
 
 def is_small_number(thing):
@@ -123,6 +136,26 @@ def is_times(thing):
 
 def last_one(many):
     return many - 1
+
+
+def first_of_those(stand, may_come):
+    return may_come[0]
+
+
+def c_made_none(asked):
+    """Asks a and b, and tells the stand in which c made 0."""
+    if len(asked) < 2:
+        return "ab"[len(asked)]
+    places = madenumbers.stand_of_made(ABC, dict(asked, c=0))
+    return FIRST if places is None else places
+
+
+def held_desk():
+    desk = Desk(ABC)
+    desk.do(("overtake", "a", "b"))
+    desk.do(("round", "a", 2))
+    desk.do(("hold", ("laps",)))
+    return desk
 
 
 def is_near_step(thing):
@@ -194,6 +227,15 @@ REFUSED = {
     "sums": Wrong(refusals.BadSums, "sums"),
     "names": Wrong(refusals.BadNames, "names"),
     "pieces": Wrong(refusals.BadPieces, "index"),
+    "prices": Wrong(refusals.BadPrices, "prices"),
+    "order": Wrong(refusals.BadOrder, "order", is_photo),
+    "wishes": Wrong(refusals.BadWishes, "index", is_wishes),
+    "steps": Wrong(refusals.BadSteps, "steps", is_plain_number),
+    "more": Wrong(refusals.BadMore, "more", is_integer),
+    "asker": Wrong(errors.BadChooser, "thing", callable),
+    "top": Wrong(refusals.BadTop, "top", is_plain_number),
+    "desk": Wrong(refusals.BadDesk, "thing"),
+    "text": Wrong(refusals.BadText, "line"),
 }
 # Where a function lets less of a parameter than others.
 SPECIAL = {
@@ -209,6 +251,7 @@ SPECIAL = {
     ("stand_of_mixed", "nets"): Wrong(errors.BadNets, "nets", lambda thing: thing == {"a": 0}),
     ("with_total", "total"): Wrong(errors.BadTotal, "total", is_integer),
     ("count_joined", "total"): Wrong(errors.BadTotal, "total", is_integer),
+    ("run_chosen", "many"): Wrong(errors.BadMany, "many", is_plain_number),
 }
 # Errors that are due ahead of those of parameters that stand ahead, where there is a parameter of a name.
 AHEAD = {"notes": ["path", "most"], "second": ["first", "second"]}
@@ -386,7 +429,8 @@ CALLS = [
     call(indoubt.wrong_numbers, [("made", "b", 1), ("suffered", "c", 2)],
          numbers={"a": 4, "b": 0, "c": 0}, others=SUFFERED),
     call(indoubt.wrong_nets, [("b", -2), ("c", -3)], nets={"a": 4, "b": -1, "c": -2}),
-    call(indoubt.wrong_pairs, [("a", "b", 3), ("a", "b", 4), ("a", "c", 2), ("a", "c", 3), ("b", "c", 2), ("b", "c", 3)],
+    call(indoubt.wrong_pairs,
+         [("a", "b", 3), ("a", "b", 4), ("a", "c", 2), ("a", "c", 3), ("b", "c", 2), ("b", "c", 3)],
          table={**TABLE, ("a", "c"): 4, ("c", "a"): -4}),
     call(halftold.stand_without, STAND, part={"a": (4, 0), "b": (1, 2)}),
     call(halftold.without_fault, ("numbers", "b"), part={"a": (4, 0), "b": (2, 3)}),
@@ -428,4 +472,30 @@ CALLS = [
     call(teams.gathered, (Path(["a", "c"]), {"a": 0, "c": 1}), stand=FIRST, pieces=[["a", "b"], ["c"]]),
     call(teams.team_clash, ("met", "b", "c"), stand=STAND, pieces=[["a"], ["b", "c"]]),
     call(teams.begun_with, (Path(["b", "c", "a"]), {"b": -1, "c": -2, "a": 6}), stand=STAND, walker="b"),
+    call(pricelists.price_between, 9, prices=PRICES, stand=FIRST, later=STAND),
+    call(priceorders.cheapest_in_order, (3, {"a": 1, "b": 0, "c": 2}), prices=PRICES, order=ORDER, wishes=WISHES),
+    call(priceorders.order_ring, [1, 0], order=ORDER, wishes=WISHES_OF_A_RING),
+    call(priceorders.is_order_ring, True, order=ORDER, wishes=WISHES_OF_A_RING, thing=[0, 1]),
+    call(priceweights.price_weights, WEIGHTS, prices=PRICES, order=ORDER, wishes=WISHES),
+    call(priceweights.are_price_weights, True, prices=PRICES, order=ORDER, wishes=WISHES, thing=WEIGHTS),
+    call(priceweights.cheapest, (3, {"a": 1, "b": 0, "c": 2}), prices=PRICES, wishes=WISHES),
+    call(priceweights.cheapest_order, ["a", "c", "b"], prices=PRICES, wishes=WISHES),
+    call(drawnsteps.further_on, 2, stand=FIRST, one="a", other="c"),
+    call(drawnsteps.chance_grown, (2, 9), steps=2, more=1),
+    call(drawnsteps.mean_square, (4, 3), steps=2),
+    call(drawnsteps.drawn_run, ([("c", "a"), ("c", "b")], {"a": -1, "b": 0, "c": 4}),
+         stand=FIRST, steps=2, chooser=last_one),
+    call(pairsteps.chance_first, (3, 5), stand=FIRST, one="a", other="b"),
+    call(pairsteps.mean_steps, (3, 1), stand=FIRST, one="a", other="b"),
+    call(pairsteps.chances_further, {1: (0, 1), 2: (1, 1)}, stand=FIRST, one="a", other="b", steps=1),
+    call(pairsteps.mean_net, (1, 3), stand=FIRST, one="a", other="b", steps=1),
+    call(callers.run_chosen, [("a", "b"), ("a", "c"), ("a", "b")], stand=FIRST, chooser=first_of_those, many=3),
+    call(callers.run_to_numbers, [("a", "b"), ("a", "c"), ("a", "b"), ("a", "c"), ("b", "c")],
+         numbers=MADE, chooser=first_of_those),
+    call(callers.run_to_notes, [("b", "c"), ("a", "c"), ("a", "b")],
+         noted={"a": 2, "b": 1, "c": 0}, most=1, chooser=first_of_those),
+    call(askers.run_asker, (["a", "b"], STAND), stand=STAND, asker=c_made_none),
+    call(askers.beat_asker, {"a": -1, "b": 1, "c": 3}, asker=c_made_none, top=1),
+    Call(desktexts.write_desk, TEXT, desk=held_desk()),
+    Call(desktexts.read_desk, held_desk(), text=TEXT),
 ]

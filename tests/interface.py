@@ -1,4 +1,4 @@
-"""The interface as the document lists it, file by file, as far as it has landed."""
+"""The interface as the document lists it, file by file."""
 
 FUNCTIONS = {
     "paths": "is_stand first_stand right_ahead going_round overtaken net turned",
@@ -36,6 +36,14 @@ FUNCTIONS = {
     "lapcounts": "count_within count_just stands_within last_within most_within busiest",
     "joinings": "with_total joint_path joined joint_clash count_joined",
     "teams": "spread gathered team_clash begun_with",
+    "pricelists": "price_between",
+    "priceorders": "cheapest_in_order order_ring is_order_ring",
+    "priceweights": "price_weights are_price_weights cheapest cheapest_order",
+    "drawnsteps": "further_on chance_grown mean_square drawn_run",
+    "pairsteps": "chance_first mean_steps chances_further mean_net",
+    "callers": "run_chosen run_to_numbers run_to_notes",
+    "askers": "run_asker beat_asker",
+    "desktexts": "write_desk read_desk",
 }
 
 METHODS = {

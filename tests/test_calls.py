@@ -38,6 +38,14 @@ IN_TURNS = {
     "sums": [calls.SUMS, {"a": 3, "b": 4, "c": 4}, {"a": 5, "b": 3, "c": 4}],
     "other_stand": [{"x": 0, "y": 1}, {"x": 5, "y": -4}, calls.FIRST, calls.STAND],
     "pieces": [[["a", "b"], ["c"]], [["a"], ["b", "c"]], [["a"], ["b"], ["c"]]],
+    "prices": [calls.PRICES, {pair: 4 - price for pair, price in calls.PRICES.items()}],
+    "order": [calls.ORDER, ["a", "b", "c"], ["c", "b", "a"], ["c", "a", "b"]],
+    "wishes": [calls.WISHES, calls.WISHES_OF_A_RING, [], [("c", "a", 5)]],
+    "steps": [0, 1, 2, 5],
+    "more": [-1, 0, 1, 9],
+    "many": [0, 1, 2, 3],
+    "top": [0, 1, 2],
+    "text": [calls.TEXT, "", "walker a 0\nwalker b 1\n", "walker a 1\nwalker b 0\nwatch all\n"],
 }
 # What goes through all runs is for near stands only.
 NEAR_ONLY = ["count_runs", "runs_between", "earlier_ones"]
@@ -198,8 +206,8 @@ class EveryRefusal(ToldCase):
         arguments[name] = thing
         if not wrong.by_place:
             self.assertRefused(wrong.error, {wrong.field: thing}, call.function, **arguments)
-        elif not isinstance(thing, (list, tuple)):
-            self.assertRefused(wrong.error, {"index": 0}, call.function, **arguments)
+        elif not isinstance(thing, wrong.kinds):
+            self.assertRefused(wrong.error, {wrong.field: 0}, call.function, **arguments)
         else:
             with self.assertRaises(wrong.error) as caught:
                 call.function(**arguments)

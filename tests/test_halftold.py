@@ -159,6 +159,28 @@ class Mixed(ToldCase):
                 self.assertTold(stand_of_mixed(path, {name: numbers[name] for name in some}, rest), stand)
         self.assertGreater(met, 300)
 
+    def test_far_ones(self):
+        chance = random.Random(17)
+        for many in (2, 3, 4, 5, 5, 5, 8):
+            names = slowly.names_of(many)
+            path = Path(names)
+            for far in (40, 10 ** 4, FAR, 10 ** 18):
+                stand = slowly.far_stand(names, [0] + [chance.randint(-far, far) for _ in range(many - 1)])
+                made, nets = numbers_made(path, stand), nets_of(path, stand)
+                for _ in range(6):
+                    some = chance.sample(names, chance.randint(0, many))
+                    rest = {name: nets[name] for name in names if name not in some}
+                    told = stand_of_mixed(path, {name: made[name] for name in some}, rest)
+                    self.assertTold(told, stand)
+                    if rest and some:
+                        # Just one net is another: then nobody's numbers are right, or all of them in another stand.
+                        rest[chance.choice(list(rest))] += chance.choice([-far, -1, 1, far])
+                        told = stand_of_mixed(path, {name: made[name] for name in some}, rest)
+                        if told is not None:
+                            self.assertEqual({name: numbers_made(path, told)[name] for name in some},
+                                             {name: made[name] for name in some})
+                            self.assertEqual({name: nets_of(path, told)[name] for name in rest}, rest)
+
     def test_all_made_and_all_nets(self):
         self.assertTold(stand_of_mixed(ABC, {"a": 4, "b": 1, "c": 0}, {}), STAND)
         self.assertTold(stand_of_mixed(ABC, {}, {"a": 4, "b": -1, "c": -3}), STAND)

@@ -17,7 +17,8 @@ from tests.told import ToldCase
 
 ABC = Path(["a", "b", "c"])
 # Walkers, laps, and how many overtakings a stand within can have at most, and some more.
-SMALL = [(2, 0, 3), (2, 1, 3), (2, 3, 6), (3, 0, 3), (3, 1, 6), (3, 2, 9), (3, 3, 11), (4, 1, 9), (4, 2, 13), (5, 1, 12)]
+SMALL = [(2, 0, 3), (2, 1, 3), (2, 3, 6), (3, 0, 3), (3, 1, 6), (3, 2, 9), (3, 3, 11), (4, 1, 9), (4, 2, 13),
+         (5, 1, 12)]
 
 
 @functools.lru_cache(maxsize=None)
@@ -32,7 +33,8 @@ def within(many, laps, depth):
 
 def last_ones(stands, laps):
     """Those from which each next overtaking leads beyond, or takes one back."""
-    return [walked for walked in stands if not any(0 <= walked.nets[pair] < laps for pair in slowly.moves(walked.places))]
+    return [walked for walked in stands
+            if not any(0 <= walked.nets[pair] < laps for pair in slowly.moves(walked.places))]
 
 
 def rows_with_marks(names, laps):

@@ -182,7 +182,8 @@ class Wrong(ToldCase):
         for thing in (None, 1, False, "ab", {("a", "b"): 1}, ABC, len):
             self.assertRefused(BadPairs, {"index": 0}, tells_all, ABC, STAND, ["a"], thing)
         for thing, index in (([["a", "a"]], 0), ([["a", "b"], ["b"]], 1), ([("a", "b"), ("b", "a"), "ab"], 2),
-                             ([("a", "b", "c")], 0), ([("a", "d")], 0), ([("a", "c"), None], 1), ([{"a": 1, "b": 2}], 0)):
+                             ([("a", "b", "c")], 0), ([("a", "d")], 0), ([("a", "c"), None], 1),
+                             ([{"a": 1, "b": 2}], 0)):
             self.assertRefused(BadPairs, {"index": index}, tells_all, ABC, STAND, ["a"], thing)
         for thing in ANYTHING:
             if thing not in (["a", "b"], ("a", "b")):
