@@ -3,17 +3,13 @@
 from ringwalkers.kinds import is_integer, is_list
 from ringwalkers.orders import need_order, need_wishes, nets_in, wished_steps
 from ringwalkers.paths import walkers_of
-from ringwalkers.pricelists import need_prices
-from ringwalkers.pricing import cheapest_with
+from ringwalkers.pricing import cheapest_with, names_with_prices
 from ringwalkers.rows import ring_below
 
 
 def cheapest_in_order(path, prices, order, wishes):
     """The least price of a stand that has the order and meets the wishes, and such a stand; None if there is none."""
-    names = walkers_of(path)
-    need_prices(names, prices)
-    need_order(names, order)
-    need_wishes(names, wishes)
+    names = names_with_prices(path, prices, order, wishes)
     found = cheapest_with(names, prices, order, wishes)
     if found is None:
         return None
@@ -44,7 +40,7 @@ def is_order_ring(path, order, wishes, thing):
     names = walkers_of(path)
     need_order(names, order)
     need_wishes(names, wishes)
-    if not is_list(thing) or len(thing) == 0 or not all([is_index(wishes, each) for each in thing]):
+    if not is_list(thing) or not all([is_index(wishes, each) for each in thing]):
         return False
     if len({each for each in thing}) < len(thing):
         return False
@@ -52,6 +48,7 @@ def is_order_ring(path, order, wishes, thing):
     if any([wish[1] != after[0] for wish, after in zip(ring, ring[1:] + ring[:1])]):
         return False
     nets = nets_in(names, order)
+    # Without wishes nothing is asked for: so an empty list is no ring, either.
     return sum([least - nets[one, other] for one, other, least in ring]) > 0
 
 

@@ -3,20 +3,17 @@
 from itertools import permutations
 
 from ringwalkers.kinds import is_dict_of, is_integer, is_list_of, is_number
-from ringwalkers.orders import need_order, need_wishes, nets_in
+from ringwalkers.orders import need_wishes, nets_in
 from ringwalkers.paths import walkers_of
 from ringwalkers.places import pairs_ahead
 from ringwalkers.pricelists import need_prices
-from ringwalkers.pricing import cheapest_with, terms_of
+from ringwalkers.pricing import cheapest_with, names_with_prices, terms_of
 from ringwalkers.weighing import are_let, is_balanced, worth_of
 
 
 def price_weights(path, prices, order, wishes):
     """Weights of pairs, and of wishes, that are worth just the least price; None if no stand meets the wishes."""
-    names = walkers_of(path)
-    need_prices(names, prices)
-    need_order(names, order)
-    need_wishes(names, wishes)
+    names = names_with_prices(path, prices, order, wishes)
     found = cheapest_with(names, prices, order, wishes)
     if found is None:
         return None
@@ -27,10 +24,7 @@ def price_weights(path, prices, order, wishes):
 
 def are_price_weights(path, prices, order, wishes, thing):
     """Whether any object is such weights."""
-    names = walkers_of(path)
-    need_prices(names, prices)
-    need_order(names, order)
-    need_wishes(names, wishes)
+    names = names_with_prices(path, prices, order, wishes)
     found = cheapest_with(names, prices, order, wishes)
     if found is None or not are_weights(names, wishes, thing):
         return False
@@ -53,30 +47,24 @@ def are_weights(names, wishes, thing):
 
 def cheapest(path, prices, wishes):
     """The least price of all stands that meet the wishes, and a stand that has it; None if there is none."""
-    names = walkers_of(path)
-    need_prices(names, prices)
-    need_wishes(names, wishes)
-    found = cheapest_of_all(names, prices, wishes)
-    if found is None:
+    best = cheapest_of_all(path, prices, wishes)
+    if best is None:
         return None
-    price, places, _ = found
+    price, places, _ = best
     return price, places
 
 
 def cheapest_order(path, prices, wishes):
     """The first order that has a cheapest stand, None if there is none."""
+    best = cheapest_of_all(path, prices, wishes)
+    return None if best is None else best[2]
+
+
+def cheapest_of_all(path, prices, wishes):
+    """The least price, a stand that has it, and its order, the first such one; None if no stand meets the wishes."""
     names = walkers_of(path)
     need_prices(names, prices)
     need_wishes(names, wishes)
-    found = cheapest_of_all(names, prices, wishes)
-    if found is None:
-        return None
-    _, _, order = found
-    return order
-
-
-def cheapest_of_all(names, prices, wishes):
-    """The least price, a stand that has it, and its order, the first such one; None if no stand meets the wishes."""
     best = None
     for others in permutations(names[1:]):
         order = names[:1] + list(others)

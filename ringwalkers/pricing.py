@@ -1,9 +1,20 @@
 """The least price in an order, with a stand that has it and weights that are worth it."""
 
-from ringwalkers.orders import moved_by_laps, places_meeting
+from ringwalkers.orders import moved_by_laps, need_order, need_wishes, places_meeting
+from ringwalkers.paths import walkers_of
 from ringwalkers.places import nets_among, pairs_ahead
+from ringwalkers.pricelists import need_prices
 from ringwalkers.rows import least_distances
 from ringwalkers.weighing import best_weights, changes_left, losses_of, worth_of
+
+
+def names_with_prices(path, prices, order, wishes):
+    """The names of the path's walkers, if all is right that is handed in."""
+    names = walkers_of(path)
+    need_prices(names, prices)
+    need_order(names, order)
+    need_wishes(names, wishes)
+    return names
 
 
 def terms_of(names, prices, wishes, nets):

@@ -152,7 +152,8 @@ class Read(ToldCase):
                         "hold net a a", "watch noted a 0", "watch noted a -1", "watch noted a 01", "watch noted a",
                         "watch net a d", "hold  all", " hold all", "hold all ", "", "watch made", "watch ahead d",
                         "free all", "walker", "walker c", "walker c -0", "walker c 00", "walker c +1", "walker 1c 1",
-                        "walker c 1 ", "Walker c 1", "walker abcdefghi 1", "walker c 1_0", "watch laps a", "watch all 1", "watch question", "hold",
+                        "walker c 1 ", "Walker c 1", "walker abcdefghi 1", "walker c 1_0",
+                        "watch laps a", "watch all 1", "watch question", "hold",
                         "walker c 12345678901234567890", "walker c -12345678901234567890"]
         counts = {}
         for _ in range(6000):
