@@ -180,6 +180,9 @@ class Wrong(ToldCase):
             expected = thing in (["a", "b"], ("a", "b"))
             self.assertTold(is_holding_row(ABC, [S, T], "a", "b", thing), expected)
             self.assertTold(is_forcing_row(ABC, [S, T], "a", "b", thing), expected)
+            if thing != "b":
+                self.assertTold(is_holding_row(ABC, [S], "a", "c", ["a", thing, "c"]), False)
+                self.assertTold(is_forcing_row(ABC, [S], "a", "c", ["a", thing, "c"]), False)
 
     def test_no_row_forces(self):
         self.assertTold(forcing_row(ABC, [T], "b", "c"), None)
