@@ -77,10 +77,10 @@ def stand_of_mixed(path, made, nets):
 def sure_step(many, lacking):
     """How many more somebody must have made, at least, whose net is so far below the told one.
 
-    As real numbers nets would grow by many / 2 at most with each one made; that all are rounded makes 2 * many * many
-    at most of difference. Near the end it is one by one.
+    With real numbers in the place of whole ones each one made would let a net grow by many / 2 at most; that nets are
+    rounded makes less than 4 * many * many of difference. So what is right is not passed by; near it goes one by one.
     """
-    return max(2 * (lacking - 2 * many * many) // many, 1)
+    return max(2 * (lacking - 4 * many * many) // many, 1)
 
 
 def need_made_of_some(names, made):
